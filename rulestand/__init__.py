@@ -1,0 +1,1 @@
+"""Rulestand: rules with negation, aggregates and numbers, with one meaning."""
