@@ -297,7 +297,8 @@ class RefusalTest(unittest.TestCase):
             ("fact", ("move", ("a", "c"))), ("fact", ("win", ("a",))),
             ("fact", ("m", (True,))), ("fact", ["m", (1,)]), ("fact", ("m", [1])), ("fact", ("m", (1,)), ()),
             ("fact", None), ("facts", ("m", (1,))),
-            ("rule", 0, ("a", "b"), ()), ("rule", 0, (["a"], "b")), ("rule", [0], ("a", "b")), ("atom", ("m", (1,))),
+            (["fact"], ("m", (1,))), (("fact",), ("m", (1,))), ("rule", 0, ("a", "b"), ()), ("rule", 0, (["a"], "b")),
+            ("rule", [0], ("a", "b")), ("atom", ("m", (1,))),
             (["rule"], 0, ("a", "b")),
             ("fact", 0, ("a", "b")), ("rule", ("m", (1,))), ("m", (1,)), ("fact", ([], ())),
         ):

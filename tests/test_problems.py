@@ -246,6 +246,12 @@ class ExpressionTest(ProblemTest):
                 self.body("form", (word, ("int", 1), expression))
             self.body("form", ("count", "less", expression, ("?x",), (("atom", "p", ("?x",)),)))
 
+    def test_each_form_is_fine(self):
+        for expression in (("int", 1), ("var", "?x"),
+            *((word, ("var", "?x"), ("int", 1)) for word in ("plus", "minus", "times"))):
+            for word in ("equal", "less", "atmost"):
+                self.fine(rules=(("p", ("?x",), ((word, expression, expression),)),))
+
     def test_range(self):
         for number in (-1000, 0, 1000):
             self.fine(rules=(("q", (), (("less", ("int", number), ("int", 1)),)),))

@@ -203,6 +203,14 @@ class VariableValuesTest(unittest.TestCase):
         with self.assertRaises(BadValue):
             program.values_of(1, "?x")
 
+    def test_constants_are_no_variables(self):
+        program = over_kinds(("busy", ("a", "?n"), (("atom", "few", (0,)), ("same", "b", "?n"))), KINDS, RELATIONS)
+        self.assertEqual(program.variables_of(0), ["?n"])
+        for value in ("a", 0, "b"):
+            with self.assertRaises(BadValue) as caught:
+                program.values_of(0, value)
+            self.assertEqual(caught.exception.name, "variable")
+
     def test_tuples_are_returned(self):
         self.assertIs(type(sample().values_of(0, "?x")), tuple)
         self.assertIs(type(sample().columns_of("busy")[0]), tuple)
