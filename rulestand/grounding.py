@@ -5,6 +5,7 @@ from rulestand.expressions import are_true, worth_of
 from rulestand.literals import (
     inner_literals, inner_variables, is_aggregate, is_comparison, literal_atoms, once, own_variables,
 )
+from rulestand.network import Network, atoms_read
 from rulestand.search import found_rows, place_tests, search_steps
 from rulestand.values import row_key
 
@@ -110,18 +111,11 @@ def ground_conditions(body, gatherings, choice):
     return tuple(conditions)
 
 
-def atoms_read(condition):
-    """Return the list of the atoms that a condition reads, each once, in the order of their first places."""
-    if condition[0] != "aggregate":
-        return [condition[1]]
-    found = []
-    for _, atoms in condition[4]:
-        found.extend(atoms)
-    return once(found)
-
-
 class Grounding:
-    """The instances of a program in their order, their heads and conditions, and the atoms of the program."""
+    """The instances of a program in their order, their heads and conditions, and the atoms of the program.
+
+    What `finished_run` finds is kept here, too.
+    """
 
     def __init__(self, program):
         self.instances = []
@@ -134,6 +128,8 @@ class Grounding:
         for index, rows in enumerate(instance_rows(program, given)):
             self._add_rule(program, index, rows, given)
         self.atoms = sorted(list(self._found), key=program.atom_key)
+        self.network = Network(self.atoms, self.instances, self.heads, self.conditions)
+        self.finished = None
 
     def _add_rule(self, program, index, rows, given):
         """Add the instances of a rule; `rows` are the values of its variables in them."""

@@ -2,7 +2,7 @@
 
 from rulestand.checking import is_named
 from rulestand.errors import BadValue
-from rulestand.grounding import atoms_read
+from rulestand.network import atoms_read
 from rulestand.programs import check_program
 from rulestand.values import is_integer, is_value
 

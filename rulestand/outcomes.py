@@ -133,3 +133,23 @@ def condition_judgement(condition, certain, possible):
     if atom not in possible:
         return "never" if condition[0] == "atom" else "sure"
     return "open"
+
+
+def passed_conditions(conditions, place, certain, possible, words):
+    """Return the place of the first condition from this place on whose judgement is none of the words.
+
+    If there is none, it is the number of the conditions.
+    """
+    while place < len(conditions) and condition_judgement(conditions[place], certain, possible) in words:
+        place += 1
+    return place
+
+
+def are_sure(conditions, certain, possible):
+    """Tell whether all of these conditions are sure in a state."""
+    return passed_conditions(conditions, 0, certain, possible, ("sure",)) == len(conditions)
+
+
+def are_blocked(conditions, certain, possible):
+    """Tell whether one of these conditions never holds in a state."""
+    return passed_conditions(conditions, 0, certain, possible, ("sure", "open")) < len(conditions)
