@@ -24,36 +24,39 @@ class Backing:
         """Take notice of backed atoms that have become certain."""
         for atom in atoms:
             self._sources.pop(atom, None)
-        self._seek(self._unsourced(atoms))
+        self._seek(self._unsourced(self._resting(atoms, ("not", "aggregate"))))
+
+    def expose(self, atoms):
+        """Take notice of backed atoms that have had no source so far, and need one from now on."""
+        self._seek(atoms + self._unsourced(self._resting(atoms, ("atom", "aggregate"))))
 
     def let_go(self):
         """Forget the atoms that wait, because they have been discarded."""
         self.waiting = {}
 
     def _unsourced(self, atoms):
-        """Take away the sources that these certain atoms may block, and those that rest on them; return their heads.
+        """Take away the sources of these atoms, and those that rest on them; return the list of their heads.
 
-        That other instances are met, too, does no harm: each of them can be a source again.
+        That other sources are met, too, does no harm: each of them can be a source again.
         """
-        line = []
-        for atom in atoms:
-            line.extend(self._resting(atom, ("not", "aggregate")))
+        line = list(atoms)
         found = []
         while line:
             atom = line.pop()
             if atom in self._sources:
                 del self._sources[atom]
                 found.append(atom)
-                line.extend(self._resting(atom, ("atom", "aggregate")))
+                line.extend(self._resting([atom], ("atom", "aggregate")))
         return found
 
-    def _resting(self, atom, words):
-        """Return the list of the atoms whose sources read this atom in conditions that begin with these words."""
+    def _resting(self, atoms, words):
+        """Return the list of the atoms whose sources read these atoms in conditions that begin with these words."""
         found = []
-        for instance, place in self.network.readers[atom]:
-            head = self.network.heads[instance]
-            if self._sources.get(head) == instance and self.network.conditions[instance][place][0] in words:
-                found.append(head)
+        for atom in atoms:
+            for instance, place in self.network.readers[atom]:
+                head = self.network.heads[instance]
+                if self._sources.get(head) == instance and self.network.conditions[instance][place][0] in words:
+                    found.append(head)
         return found
 
     def _seek(self, atoms):

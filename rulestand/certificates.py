@@ -1,6 +1,5 @@
 """Certificates: found for the value of an atom, trimmed, and their grounds (points 58 to 63)."""
 
-from rulestand.checking import is_named
 from rulestand.errors import BadValue
 from rulestand.judging import check_claim, is_shown, standing_behind
 from rulestand.running import finished_run
@@ -31,12 +30,9 @@ def trimmed(program, atom, word, certificate):
 
 def is_ground_step(value):
     """Tell whether the argument has the form of a step that derives a fact by its own instance."""
-    if not isinstance(value, tuple) or len(value) != 3 or not isinstance(value[0], str) or value[0] != "derive":
+    if not isinstance(value, tuple) or len(value) != 3 or value[0] != "derive":
         return False
-    instance = value[2]
-    if not isinstance(instance, tuple) or len(instance) != 2 or not isinstance(instance[0], str):
-        return False
-    return instance[0] == "fact" and is_named(instance[1])
+    return isinstance(value[2], tuple) and len(value[2]) == 2 and value[2][0] == "fact"
 
 
 def grounds(certificate):

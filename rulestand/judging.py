@@ -14,7 +14,7 @@ def check_claim(program, atom, word):
     grounding_of(program)
     if not program.is_atom(atom):
         raise BadValue("atom")
-    if not isinstance(word, str) or word not in WORDS:
+    if word not in WORDS:
         raise BadValue("word")
 
 

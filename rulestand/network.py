@@ -32,13 +32,12 @@ class Network:
         self.read = {}
         for instance in instances:
             self.headed[heads[instance]].append(instance)
-            found = []
+            read = []
             for place, condition in enumerate(conditions[instance]):
-                atoms = atoms_read(condition)
-                found.extend(atoms)
-                for atom in atoms:
+                for atom in atoms_read(condition):
+                    read.append(atom)
                     self.readers[atom].append((instance, place))
-            self.read[instance] = once(found)
+            self.read[instance] = once(read)
 
     def in_order(self, atoms):
         """Return the list of some of the atoms, in their order."""

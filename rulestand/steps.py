@@ -36,11 +36,11 @@ def standing_in(program, state):
 
 def is_step(program, value):
     """Tell whether the argument has one of the forms of steps, with ground atoms and an instance as data."""
-    if not isinstance(value, tuple) or len(value) == 0 or not isinstance(value[0], str):
+    if not isinstance(value, tuple):
         return False
-    if value[0] == "derive" and len(value) == 3:
+    if len(value) == 3 and value[0] == "derive":
         return program.is_atom(value[1]) and is_instance_form(value[2])
-    if value[0] == "discard" and len(value) == 2:
+    if len(value) == 2 and value[0] == "discard":
         return isinstance(value[1], tuple) and all([program.is_atom(atom) for atom in value[1]])
     return False
 

@@ -119,3 +119,21 @@ def ground_program(seed, *, aggregates=True):
 def drawn_program(seed, *, aggregates=True):
     """Return a program of one sort or the other."""
     return (looping_program if seed % 3 == 0 else ground_program)(seed, aggregates=aggregates)
+
+
+def drawn_goal(program, atoms, chance):
+    """Return a goal that often matches some of these atoms of a program."""
+    if not atoms or chance.random() < 0.1:
+        name, columns = chance.choice(program.relations)
+        row = [chance.choice(dict(program.kinds)[kind]) for kind in columns]
+    else:
+        name, row = chance.choice(atoms)
+    names = chance.choice((("?x", "?y"), ("?a1",), ("?long",)))
+    return name, tuple(chance.choice(names) if chance.random() < 0.5 else value for value in row)
+
+
+def narrowed(program, goal, chance):
+    """Return a goal with values in place of some variables of another one."""
+    values = [value for _, kind in program.kinds for value in kind]
+    given = {term: chance.choice(values) for term in goal[1] if chance.random() < 0.6}
+    return goal[0], tuple(given.get(term, term) if str(term)[0] == "?" else term for term in goal[1])

@@ -220,7 +220,7 @@ class DiscardingTest(Checks):
         self.assertTrue(is_allowed(program, state, ("discard", (P, Q))))
         self.assertTrue(is_allowed(program, state, ("discard", (P, Q, S))))
         for atoms in ((), (Q, P), (P, P), (P, Q, Q), (P, Q, P), (P, R), (R,), (S, P), [P, Q], [P], P, (P, ("t", ()))):
-            self.assertFalse(is_allowed(program, state, ("discard", atoms)), atoms)
+            self.assertIs(is_allowed(program, state, ("discard", atoms)), False, atoms)
             self.bad("step", after_step, program, state, ("discard", atoms))
         self.assertFalse(is_allowed(program, ((R,), (Q, R)), ("discard", (P, Q))))
         self.assertFalse(is_allowed(program, ((R,), (Q, R)), ("discard", (P,))))
@@ -290,7 +290,8 @@ class StateTest(Checks):
             None, True, 0, 7, "", "derive", "discard", b"discard", (), [], {}, object(), ("derive",), ("discard",),
             (None,), ("derive", P), ("derive", P, ("rule", 0, ()), None), ("discard", (Q,), None), ("open", P),
             ("discard", Q), ("discard", [Q]), ("discard", "q"), ("discard", None), ("discard", (None,)),
-            ("discard", (["q", ()],)), ("discard", ({},)), ("derive", ["p", ()], ("rule", 0, ())),
+            ("discard", (["q", ()],)), ("discard", ({},)), ("discard", (Q, [])), ("discard", (Q, {})),
+            ("derive", ["p", ()], ("rule", 0, ())), ("discard", ()),
             ("derive", P, ["rule", 0, ()]), ("derive", P, ("rule", 0, [])), ("derive", P, ("rule", [], ())),
             ("derive", P, ("rule", 0, ({},))), ("derive", S, ("fact", [])), ("derive", S, ("fact", ["s", ()])),
             ("derive", S, ("fact", ("s", ([],)))), ("derive", S, ("fact",)), ("derive", S, ("fact", S, S)),
