@@ -272,6 +272,11 @@ class RefusalTest(Checks):
         self.bad("atom", inquiry.value, ("n", (False,)))
         self.bad("goal", inquiry.ask, ("n", (True,)))
         self.assertEqual(inquiry.take(("derive", ("n", (1,)))), 1)
+        program = Program(kinds=(("few", (0, 1)),), relations=(("n", ("few",)),),
+            rules=(("n", (1,), (("atom", "n", (1,)),)),))
+        inquiry = asked(program, ("n", (1,)))
+        self.bad("step", inquiry.take, ("discard", (("n", (True,)),)))
+        self.assertEqual(inquiry.take(("discard", (("n", (1,)),))), 0)
 
 
 class DrawnTest(unittest.TestCase):
