@@ -3,7 +3,7 @@
 from rulestand.dependencies import components
 from rulestand.errors import BadValue
 from rulestand.goals import answers_of, check_goal, matching_rows
-from rulestand.network import Network, atoms_read
+from rulestand.network import atoms_read
 from rulestand.outcomes import condition_judgement
 from rulestand.running import Run, finished_run
 
@@ -77,9 +77,7 @@ def part_of(demand, goal):
     wanted = {atom: True for atoms in demand.rounds(goal) for atom in atoms}
     kept = [instance for instance in network.instances if network.heads[instance] in wanted
         and not demand.is_cut(instance)]
-    heads = {instance: network.heads[instance] for instance in kept}
-    conditions = {instance: network.conditions[instance] for instance in kept}
-    return Network(network.in_order(wanted), kept, heads, conditions)
+    return network.part(wanted, kept)
 
 
 def demanded(program, goal):
@@ -107,4 +105,4 @@ def part(program, goal):
 
 def answers_from_part(program, goal):
     """Return the list of the answers of a goal, found by steps with its part alone."""
-    return answers_of(Run(part_of(demand_of(program, goal), goal)), goal)
+    return answers_of(Run(part_of(demand_of(program, goal), goal), {}), goal)

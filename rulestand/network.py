@@ -42,3 +42,9 @@ class Network:
     def in_order(self, atoms):
         """Return the list of some of the atoms, in their order."""
         return [self.atoms[place] for place in sorted([self.places[atom] for atom in atoms])]
+
+    def part(self, atoms, instances):
+        """Return the network of some of the atoms, in their order, and some of the instances."""
+        heads = {instance: self.heads[instance] for instance in instances}
+        conditions = {instance: self.conditions[instance] for instance in instances}
+        return Network(self.in_order(atoms), instances, heads, conditions)

@@ -9,17 +9,19 @@ from rulestand.standing import Standing
 class Run:
     """A row of steps of a network, from its first state to one in which no step is allowed.
 
-    `steps` is the list of the steps, and `times` has the index of the step that derives or discards an atom.
+    `steps` is the list of the steps, and `times` has the index of the step that derives or discards an atom. The dict
+    `outside` has the values of atoms that no instance has as its head; they keep them.
     """
 
-    def __init__(self, network):
+    def __init__(self, network, outside):
         self.network = network
-        self.standing = Standing(network, (), network.atoms)
+        certain = [atom for atom in outside if outside[atom] == "true"]
+        self.standing = Standing(network, certain, [atom for atom in network.atoms if outside.get(atom) != "false"])
         self.steps = []
         self.times = {}
         # Sure conditions stay sure, so each instance is only looked at where its first other condition is.
         self._passed = {instance: 0 for instance in network.instances}
-        self._finish()
+        self._finish(outside)
 
     def word_of(self, atom):
         """Return the value of an atom: "true", "undecided" or "false"."""
@@ -31,9 +33,11 @@ class Run:
         """Return the list of the undecided atoms, in order."""
         return self.network.in_order(self.standing.open_atoms())
 
-    def _finish(self):
+    def _finish(self, outside):
         """Take steps until none is allowed: derive as long as possible, then discard, and so on."""
-        backing = Backing(self.network, self.standing.certain, (), self.network.atoms)
+        backed = [atom for atom in outside if atom in self.standing.possible]
+        inside = [atom for atom in self.network.atoms if atom not in outside]
+        backing = Backing(self.network, self.standing.certain, backed, inside)
         backing.settle(self._derived(self.network.instances))
         while backing.waiting:
             atoms = self.network.in_order(backing.waiting)
@@ -85,5 +89,5 @@ def finished_run(program):
     """Return the run of an argument `program`, which is checked; it is found at the first call, and then kept."""
     grounding = grounding_of(program)
     if grounding.finished is None:
-        grounding.finished = Run(grounding.network)
+        grounding.finished = Run(grounding.network, {})
     return grounding.finished
