@@ -1,6 +1,7 @@
 """Upkeep: a program that changes, and its values, which are kept (points 79 to 87)."""
 
 from rulestand.blocking import blocks_of
+from rulestand.comparing import differing
 from rulestand.errors import BadValue
 from rulestand.instances import grounding_of
 from rulestand.literals import once
@@ -79,14 +80,10 @@ def determined(network, block, outside):
     return {atom: run.word_of(atom) for atom in block}
 
 
-def differences(before, now):
-    """Return the list of the atoms whose words are different, with both words; what has no word is false."""
-    found = []
-    for atom in once(list(before) + list(now)):
-        words = (before.get(atom, "false"), now.get(atom, "false"))
-        if words[0] != words[1]:
-            found.append((atom, words[0], words[1]))
-    return sorted(found, key=lambda told: (told[0][0], row_key(told[0][1])))
+def name_key(told):
+    """Return a tuple by which atoms with their words are sorted: by the names of their relations, then by values."""
+    atom = told[0]
+    return (atom[0], row_key(atom[1]))
 
 
 def blocks(program):
@@ -116,7 +113,7 @@ class Kept:
         grounding_of(program)
         before = self._words
         self._take_over(program)
-        return differences(before, self._words)
+        return sorted(differing(before, self._words), key=name_key)
 
     def value(self, atom):
         """Return "true", "false" or "undecided"."""
