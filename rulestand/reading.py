@@ -42,10 +42,8 @@ def read_whole(text, read):
 
 def next_tokens(text):
     """Return the list of the words for what can come behind the tokens of a text that begins a text of a program."""
-    found = tokens_of(text)
-    line, column = found[-1][2:]
     # No token of the grammar is a stop, so the reader asks for all that can come in its place.
-    tokens = Tokens(found[:-1] + [("stop", "", line, column)])
+    tokens = Tokens(tokens_of(text)[:-1] + [("stop", "", 0, 0)])
     try:
         read_statements(tokens)
         tokens.need_end()

@@ -70,16 +70,20 @@ class Scanner:
         kind, end = found
         characters = row[at:end]
         problem = length_problem(kind, characters)
-        if problem is None and characters in ("(", "{") and self._depth == MOST_OPEN:
+        if characters in ("(", "{") and self._depth == MOST_OPEN:
             problem = "nested too deep"
         if problem is not None:
             raise TextError(line, at + 1, problem)
-        if characters in ("(", "{"):
-            self._depth += 1
-        elif characters in (")", "}"):
-            self._depth = max(0, self._depth - 1)
+        self._count(characters)
         self.tokens.append((kind, characters, line, at + 1))
         return end
+
+    def _count(self, characters):
+        """Count a parenthesis or a brace that is opened or closed."""
+        if characters in ("(", "{"):
+            self._depth += 1
+        elif characters in (")", "}") and self._depth > 0:
+            self._depth -= 1
 
 
 def scan(text):

@@ -43,8 +43,7 @@ class Tokens:
 
     def takes(self, characters):
         """Take the next token if it is this reserved word or sign; tell whether it is."""
-        kind, found = self._tokens[self._at][:2]
-        if kind in ("reserved", "sign") and found == characters:
+        if self._tokens[self._at][1] == characters:
             self._step()
             return True
         self._wanted[characters] = True

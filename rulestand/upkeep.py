@@ -4,7 +4,6 @@ from rulestand.blocking import blocks_of
 from rulestand.comparing import differing
 from rulestand.errors import BadValue
 from rulestand.instances import grounding_of
-from rulestand.literals import once
 from rulestand.programs import Program, is_rule
 from rulestand.running import Run
 from rulestand.values import is_integer, row_key
@@ -68,10 +67,10 @@ def instances_of(network, block):
 
 
 def outside_of(network, block):
-    """Return the list of the atoms outside of a block that its instances read."""
+    """Return the list of the atoms outside of a block that its instances read, with repeats."""
     inside = {atom: True for atom in block}
     read = [atom for instance in instances_of(network, block) for atom in network.read[instance]]
-    return once([atom for atom in read if atom not in inside])
+    return [atom for atom in read if atom not in inside]
 
 
 def determined(network, block, outside):
@@ -109,10 +108,8 @@ class Kept:
 
     def change(self, changes):
         """Make changes; return the list of the atoms whose values differ, with their values before and now."""
-        program = program_after(self._program, changes)
-        grounding_of(program)
         before = self._words
-        self._take_over(program)
+        self._take_over(program_after(self._program, changes))
         return sorted(differing(before, self._words), key=name_key)
 
     def value(self, atom):
@@ -126,7 +123,7 @@ class Kept:
         return list(self._touched)
 
     def _take_over(self, program):
-        """Determine the values of another program, whose instances can be looked at, and keep it."""
+        """Determine the values of another program, and keep it. Raises TooLarge before anything is changed."""
         network = grounding_of(program).network
         found = blocks_of(network)
         words = {}
@@ -150,6 +147,6 @@ class Kept:
         """Tell whether a block of another program has the values that it has here."""
         if block not in self._blocks:
             return False
-        if not all([self._words.get(atom, "false") == word for atom, word in outside.items()]):
+        if not all([bodies_of(self._network, atom) == bodies_of(network, atom) for atom in block]):
             return False
-        return all([bodies_of(self._network, atom) == bodies_of(network, atom) for atom in block])
+        return all([self._words[atom] == word for atom, word in outside.items()])

@@ -7,7 +7,6 @@ from rulestand.instances import grounding_of
 from rulestand.judging import WORDS
 from rulestand.outcomes import condition_judgement
 from rulestand.programs import Program, check_program
-from rulestand.restricting import network_without
 from rulestand.running import Run, finished_run
 from rulestand.values import is_integer
 
@@ -85,24 +84,21 @@ def changed(program, changes):
 def run_after(whole, changes, chosen):
     """Return the finished run of the program changed by the changes with these indexes.
 
-    `whole` is the program with all additions: it has all instances of the changed one, and more.
+    `whole` is the program with all additions. Its instances and tuples that the changed program does not have read a
+    missing fact of a relation without rules. This atom is false, so they make no difference. Raises TooLarge.
     """
     made = [changes[index] for index in chosen]
     left = [change for change in changes if change not in made]
-    return Run(network_without(whole, atoms_in(made, "drop") + atoms_in(left, "add")), {})
+    missing = [("fact", atom) for atom in atoms_in(made, "drop") + atoms_in(left, "add")]
+    network = grounding_of(whole).network
+    kept = [instance for instance in network.instances if instance not in missing]
+    return Run(network.part(network.atoms, kept), {})
 
 
 def check_word(word):
     """Check an argument `word`."""
     if word not in WORDS:
         raise BadValue("word")
-
-
-def whole_program(program, changes):
-    """Return the program with all additions, after looking at it."""
-    whole = all_added(program, changes)
-    grounding_of(whole)
-    return whole
 
 
 def least_changes(program, atom, word, candidates, most):
@@ -114,7 +110,7 @@ def least_changes(program, atom, word, candidates, most):
         raise BadValue("candidates")
     if not is_integer(most) or not 0 <= most <= MOST_CHOSEN:
         raise BadValue("most")
-    whole = whole_program(program, candidates)
+    whole = all_added(program, candidates)
     for number in range(most + 1):
         found = []
         for chosen in combinations(range(len(candidates)), number):
@@ -132,5 +128,5 @@ def what_if(program, changes, atoms):
         raise BadValue("changes")
     if not isinstance(atoms, list) or len(atoms) > MOST_ATOMS or not all([program.is_atom(atom) for atom in atoms]):
         raise BadValue("atoms")
-    after = run_after(whole_program(program, changes), changes, list(range(len(changes))))
+    after = run_after(all_added(program, changes), changes, list(range(len(changes))))
     return [(run.word_of(atom), after.word_of(atom)) for atom in atoms]

@@ -168,7 +168,8 @@ def drawn_modules(chance):
         for relation, columns in module[3]:
             for _ in range(chance.choice((0, 1, 2))):
                 body = [drawn_literal(chance, skeletons, module, place) for place in range(chance.randrange(3))]
-                rules.append((relation if chance.random() < 0.97 else "free", ("?x",) * len(columns), tuple(part for part in body if part is not None)))
+                rules.append((relation if chance.random() < 0.97 else "free", ("?x",) * len(columns),
+                    tuple(part for part in body if part is not None)))
         if chance.random() < 0.1:
             rules.append((module[3][0][0], (), (("not", chance.choice(NAMES), ()),)))
         found.append((*module[:5], tuple(rules)))

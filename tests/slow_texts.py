@@ -14,7 +14,8 @@ INTEGER    = [ "-" ] NUMBER
 TERM       = VALUE | VARIABLE
 LITERAL    = "not" NAME [ TERMS ] | AGGREGATE | INNER
 INNER      = NAME [ TERMS ] | TERM ( "same" | "differ" ) TERM | EXPRESSION SIGN EXPRESSION
-AGGREGATE  = ( "count" | "sum" | "least" | "greatest" ) "{" VARIABLE { "," VARIABLE } ":" INNER { "," INNER } "}" SIGN EXPRESSION
+AGGREGATE  = OPERATION "{" VARIABLE { "," VARIABLE } ":" INNER { "," INNER } "}" SIGN EXPRESSION
+OPERATION  = "count" | "sum" | "least" | "greatest"
 SIGN       = "=" | "<" | "<=" | ">" | ">="
 EXPRESSION = PRODUCT { ( "+" | "-" ) PRODUCT }
 PRODUCT    = FACTOR { "*" FACTOR }
@@ -84,7 +85,9 @@ def first_steps(stack):
 
 
 def frozen(item):
-    return item if isinstance(item, str) else (item[0], tuple(tuple(frozen(part) for part in choice) for choice in item[1]))
+    if isinstance(item, str):
+        return item
+    return (item[0], tuple(tuple(frozen(part) for part in choice) for choice in item[1]))
 
 
 class Walk:

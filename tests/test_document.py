@@ -58,10 +58,12 @@ INTERFACE = {
     "writing": ("program_text", "rule_text", "atom_text"),
 }
 METHODS = {
-    "programs.Program": ("__init__", "relation_index", "columns_of", "variables_of", "values_of", "is_atom", "atom_key"),
+    "programs.Program": ("__init__", "relation_index", "columns_of", "variables_of", "values_of", "is_atom",
+        "atom_key"),
     "inquiries.Inquiry": ("__init__", "ask", "steps", "take", "run", "opened", "value", "answers"),
     "upkeep.Kept": ("__init__", "change", "value", "touched"),
-    "workbench.Workbench": ("__init__", "text", "value", "counts", "changed", "edit", "undo", "redo", "settle", "journal", "copy"),
+    "workbench.Workbench": ("__init__", "text", "value", "counts", "changed", "edit", "undo", "redo", "settle",
+        "journal", "copy"),
 }
 PROPERTIES = {"upkeep.Kept": ("program",), "workbench.Workbench": ("program", "worked", "used")}
 
@@ -83,9 +85,12 @@ def program_calls(program, chance):
     atom = chance.choice(atoms or ground)
     goal = drawn_goal(program, atoms, chance)
     found = [
-        (instances,), (atoms_of,), (edges,), (components,), (strata,), (turn_of,), (idle,), (first_state,), (meaning,), (blocks,),
-        (sign_towards, names[0], names[-1]), (needed, tuple(names[:1])), (value, atom), (why_not, atom), (explained, atom),
-        (goal_atoms, goal), (answers, goal), (demanded, goal), (is_closed, goal, atoms), (part, goal), (answers_from_part, goal),
+        (instances,), (atoms_of,), (edges,), (components,), (strata,), (turn_of,), (idle,), (first_state,),
+        (meaning,), (blocks,),
+        (sign_towards, names[0], names[-1]), (needed, tuple(names[:1])), (value, atom), (why_not, atom),
+        (explained, atom),
+        (goal_atoms, goal), (answers, goal), (demanded, goal), (is_closed, goal, atoms), (part, goal),
+        (answers_from_part, goal),
         (derivable, first_state(program)), (greatest_discard, first_state(program)), (program_text,), (atom_text, atom),
         (carried_out, explained(program, atom)[1]), (accepts, atom, *explained(program, atom)),
         (what_if, [("drop", fact) for fact in program.facts[:2]], ground[:5]),
@@ -163,7 +168,8 @@ class DocumentTest(Checks):
         self.assertIsInstance(Workbench("").counts(), tuple)
 
     def test_point_3_true_and_false_are_no_integers(self):
-        program = Program(kinds=(("n", (0, 1)),), relations=(("p", ("n",)),), rules=(("p", (0,), ()),), facts=(("p", (1,)),))
+        program = Program(kinds=(("n", (0, 1)),), relations=(("p", ("n",)),), rules=(("p", (0,), ()),),
+            facts=(("p", (1,)),))
         for atom in (("p", (True,)), ("p", (False,))):
             for call in (value, why_not, explained, atom_text):
                 self.bad("atom", call, program, atom)
@@ -187,13 +193,16 @@ class DocumentTest(Checks):
             self.bad("goal", inquiry.ask, ("none", ()))
             self.bad("step", inquiry.take, ("open", ("none", ())))
             self.assertEqual(
-                repr((program_text(kept.program), kept.touched(), bench.text(), inquiry.steps(), inquiry.opened())), shown)
+                repr((program_text(kept.program), kept.touched(), bench.text(), inquiry.steps(), inquiry.opened())),
+                shown)
             self.assertEqual(bench.journal(), [])
 
     def test_point_6_the_program_is_checked_first(self):
         for no_program in NO_PROGRAMS:
-            for call, number in ((explained, 1), (trimmed, 3), (answers, 1), (is_closed, 2), (value, 1), (why_not, 1), (changed, 1),
-                                 (least_changes, 4), (what_if, 2), (settled, 1), (read_atom, 1), (rule_text, 1), (atom_text, 1),
+            for call, number in ((explained, 1), (trimmed, 3), (answers, 1), (is_closed, 2), (value, 1), (why_not, 1),
+                (changed, 1),
+                                 (least_changes, 4), (what_if, 2), (settled, 1), (read_atom, 1), (rule_text, 1),
+                                 (atom_text, 1),
                                  (sign_towards, 2), (needed, 1), (head_of, 1), (conditions_of, 1), (after_step, 2)):
                 self.bad("program", call, no_program, *[None] * number)
 
@@ -239,7 +248,8 @@ class DocumentTest(Checks):
             certain, possible = carried_out(program, steps)
             true, undecided = meaning(program)
             self.assertEqual((certain, set(possible)), (true, {*true, *undecided}), seed)
-            self.assertEqual((derivable(program, (certain, possible)), greatest_discard(program, (certain, possible))), ([], []))
+            self.assertEqual((derivable(program, (certain, possible)),
+                greatest_discard(program, (certain, possible))), ([], []))
             if strata(program) is not None:
                 self.assertEqual(undecided, ())
             for atom, word in words_of(program).items():
@@ -348,7 +358,8 @@ class DocumentTest(Checks):
                     self.assertEqual(outcomes(operation, members), outcomes(operation, members))
                     self.assertEqual(judge(operation, word, bound, members) == "never",
                         witness(operation, word, bound, members, True) is None)
-        self.assertEqual(grounds(explained(program, atoms_of(program)[0])[1]), grounds(explained(program, atoms_of(program)[0])[1]))
+        self.assertEqual(grounds(explained(program, atoms_of(program)[0])[1]),
+            grounds(explained(program, atoms_of(program)[0])[1]))
         with self.assertRaises(BadValue):
             outcomes("total", ())
 

@@ -205,7 +205,8 @@ class RunTest(unittest.TestCase):
     def test_answers_have_the_order_of_their_rows(self):
         program = game("ab", "bc", "aa", "cc")
         inquiry = asked(program, ("win", ("b",)))
-        self.assertEqual(inquiry.answers(("win", ("?x",))), [(("a",), "unknown"), (("b",), "open"), (("c",), "unknown")])
+        self.assertEqual(inquiry.answers(("win", ("?x",))), [(("a",), "unknown"), (("b",), "open"),
+            (("c",), "unknown")])
         inquiry.run()
         self.assertEqual(inquiry.answers(("win", ("?x",))), [(("a",), "unknown"), (("b",), "open"), (("c",), "open")])
         self.assertEqual(inquiry.answers(("move", ("?x", "?x"))), [(("a",), "unknown"), (("c",), "true")])
@@ -243,7 +244,8 @@ class RefusalTest(Checks):
 
     def test_atoms(self):
         inquiry = Inquiry(game("ab"))
-        for atom in (None, "win", ("win", ()), ("win", ("d",)), ("win", ["a"]), ["win", ("a",)], ("won", ("a",)), (), {},
+        for atom in (None, "win", ("win", ()), ("win", ("d",)), ("win", ["a"]), ["win", ("a",)], ("won", ("a",)), (),
+            {},
                      ("win", ("?x",)), ("win", (["a"],)), ("s", None), ("m", (True, "a", "b")), ("m", (-1, "a", 2))):
             self.bad("atom", inquiry.value, atom)
         self.assertEqual(inquiry.value(("m", (-1, "a", "b"))), "false")

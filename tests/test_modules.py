@@ -16,13 +16,15 @@ from tests.test_steps import Checks
 
 PLACES = ("geo", (), (("place", ("a", "b", "c")),), (("road", ("place", "place")), ("town", ("place",))),
     ("place", "road"), (("road", ("?x", "?y"), (("atom", "road", ("?y", "?x")),)),))
-WAYS = ("ways", (("geo", "road", "edge"), ("geo", "place", "spot")), (), (("way", ("spot", "spot")),), ("way", "edge"), (
+WAYS = ("ways", (("geo", "road", "edge"), ("geo", "place", "spot")), (), (("way", ("spot", "spot")),),
+    ("way", "edge"), (
     ("way", ("?x", "?y"), (("atom", "edge", ("?x", "?y")),)),
     ("way", ("?x", "?z"), (("atom", "way", ("?x", "?y")), ("atom", "edge", ("?y", "?z")))),
 ))
 FAR = ("far", (("ways", "edge", "road"), ("geo", "place", "place"), ("ways", "way", "way")), (("few", (0, 1, 2)),),
     (("many", ("place", "few")), ("alone", ("place",))), ("alone",), (
-        ("many", ("?x", "?n"), (("count", "equal", ("var", "?n"), ("?y",), (("atom", "way", ("?x", "?y")), ("differ", "?y", "a"))),)),
+        ("many", ("?x", "?n"), (("count", "equal", ("var", "?n"), ("?y",),
+            (("atom", "way", ("?x", "?y")), ("differ", "?y", "a"))),)),
         ("alone", ("?x",), (("not", "many", ("?x", 2)), ("same", "?x", "?x"))),
     ))
 THREE = [WAYS, FAR, PLACES]
@@ -52,17 +54,20 @@ class FormTest(Checks):
                       module(kinds=(("kind", (None, [], "Z")),)), module(relations=(("rule", ("if", "not") * 5),)),
                       module(rules=(("x", (None, 1.5), (("atom", "y", ({},)), ("not", "z", ()))),)),
                       module(rules=(("x", (), (("same", None, 5), ("less", [], {}), ("atmost", 1, 2))),)),
-                      module(rules=(("x", (), (("count", "equal", None, ("?x",), (("atom", "y", (0,)), ("differ", 0, 0))),)),)),
+                      module(rules=(("x", (), (("count", "equal", None, ("?x",),
+                          (("atom", "y", (0,)), ("differ", 0, 0))),)),)),
                       module(rules=(("x", (), (("not", "y", ()),) * 7),))):
             self.assertIs(is_module(value), True, value)
 
     def test_names_of_modules(self):
-        for name in ("", "abcde", "1a", "_a", "a_b", "A", "aB", "a b", "a?", None, 1, ("a",), ["a"], "\u00e9", "a\u00b2"):
+        for name in ("", "abcde", "1a", "_a", "a_b", "A", "aB", "a b", "a?", None, 1, ("a",), ["a"], "\u00e9",
+                "a\u00b2"):
             self.assertIs(is_module(module(name)), False, name)
             self.assertIs(is_module(module(imports=((name, "x", "y"),))), False, name)
 
     def test_names_of_a_module(self):
-        for name in ("", "abcdefgh", "1a", "_a", "A", "aB", "a b", "?a", None, 1, ("a",), ["a"], "\u00e9", "a\u00b2", True):
+        for name in ("", "abcdefgh", "1a", "_a", "A", "aB", "a b", "?a", None, 1, ("a",), ["a"], "\u00e9", "a\u00b2",
+                True):
             for value in (
                 module(imports=(("m", name, "x"),)), module(imports=(("m", "x", name),)), module(kinds=((name, ()),)),
                 module(relations=((name, ()),)), module(relations=(("x", (name,)),)), module(exports=(name,)),
@@ -90,7 +95,8 @@ class FormTest(Checks):
         inner = ("atom", "y", ())
         for literal in (
             None, "atom", (), ("atom",), ("atom", "y"), ("atom", "y", [], ()), ("atom", "y", []), ["atom", "y", ()],
-            ("fact", "y", ()), ("equal", 1), ("equal", 1, 2, 3), ("more", 1, 2), ("same", "a"), ("count", "equal", 1, ("?x",)),
+            ("fact", "y", ()), ("equal", 1), ("equal", 1, 2, 3), ("more", 1, 2), ("same", "a"),
+            ("count", "equal", 1, ("?x",)),
             ("count", "equal", 1, ("?x",), [inner]), ("count", "equal", 1, ("?x",), (None,)),
             ("count", "equal", 1, ("?x",), (inner, ("not", "y", ()))), ("total", "equal", 1, ("?x",), (inner,)),
             ("count", "equal", 1, ("?x",), (("count", "equal", 1, ("?x",), (inner,)),)), (None, "y", ()), ([], "y", ()),
@@ -101,7 +107,8 @@ class FormTest(Checks):
 
     def test_how_many_there_may_be(self):
         for part, item, most in (
-            ("imports", ("m", "x", "y"), 8), ("kinds", ("x", ()), 8), ("relations", ("x", ()), 12), ("exports", "x", 12),
+            ("imports", ("m", "x", "y"), 8), ("kinds", ("x", ()), 8), ("relations", ("x", ()), 12),
+            ("exports", "x", 12),
             ("rules", ("x", (), ()), 24),
         ):
             self.assertIs(is_module(module(**{part: (item,) * most})), True, part)
@@ -111,14 +118,17 @@ class FormTest(Checks):
 class OriginTest(Linking):
     def test_declared_and_imported_names(self):
         for index, name, full in (
-            (0, "way", "ways_way"), (0, "edge", "geo_road"), (0, "spot", "geo_place"), (0, "road", None), (1, "road", "geo_road"),
-            (1, "place", "geo_place"), (1, "way", "ways_way"), (1, "few", "far_few"), (1, "spot", None), (2, "town", "geo_town"),
+            (0, "way", "ways_way"), (0, "edge", "geo_road"), (0, "spot", "geo_place"), (0, "road", None),
+            (1, "road", "geo_road"),
+            (1, "place", "geo_place"), (1, "way", "ways_way"), (1, "few", "far_few"), (1, "spot", None),
+            (2, "town", "geo_town"),
             (2, "place", "geo_place"), (2, "", None), (0, "geo", None),
         ):
             self.assertEqual(origin_of(THREE, index, name), full, (index, name))
 
     def test_what_is_not_exported_has_no_origin_elsewhere(self):
-        other = module("n", (("geo", "town", "town"), ("geo", "lake", "lake"), ("no", "x", "x")), (), (), ("town", "free"))
+        other = module("n", (("geo", "town", "town"), ("geo", "lake", "lake"), ("no", "x", "x")), (), (),
+            ("town", "free"))
         for name in ("town", "lake", "x", "free"):
             self.assertIsNone(origin_of([other, PLACES], 0, name))
 
@@ -129,7 +139,8 @@ class OriginTest(Linking):
         for modules in (
             [module("m", (("m", "x", "x"),), exports=("x",))],
             [module("m", (("n", "x", "x"),), exports=("x",)), module("n", (("m", "x", "x"),), exports=("x",))],
-            [module("m", (("n", "y", "x"),), exports=("x",)), module("n", (("n", "z", "y"), ("n", "y", "z")), exports=("y", "z"))],
+            [module("m", (("n", "y", "x"),), exports=("x",)),
+                module("n", (("n", "z", "y"), ("n", "y", "z")), exports=("y", "z"))],
         ):
             self.assertIsNone(origin_of(modules, 0, "x"))
             self.problem((0, "imports", 0), "no origin", link, modules, ())
@@ -169,8 +180,10 @@ class LinkTest(Linking):
         program = link(THREE, FACTS)
         self.assertEqual(program.kinds, (("far_few", (0, 1, 2)), ("geo_place", ("a", "b", "c"))))
         self.assertEqual(program.relations, (("far_many", ("geo_place", "far_few")), ("far_alone", ("geo_place",)),
-            ("geo_road", ("geo_place", "geo_place")), ("geo_town", ("geo_place",)), ("ways_way", ("geo_place", "geo_place"))))
-        counted = ("count", "equal", ("var", "?n"), ("?y",), (("atom", "ways_way", ("?x", "?y")), ("differ", "?y", "a")))
+            ("geo_road", ("geo_place", "geo_place")), ("geo_town", ("geo_place",)),
+            ("ways_way", ("geo_place", "geo_place"))))
+        counted = ("count", "equal", ("var", "?n"), ("?y",), (("atom", "ways_way", ("?x", "?y")),
+            ("differ", "?y", "a")))
         self.assertEqual(program.rules, (
             ("far_many", ("?x", "?n"), (counted,)),
             ("far_alone", ("?x",), (("not", "far_many", ("?x", 2)), ("same", "?x", "?x"))),
@@ -219,13 +232,18 @@ class LinkTest(Linking):
             ((0, "exports", 1), "twice", [module("n", (), (("a", ()),), (), ("a", "a", "b"))]),
             ((0, "exports", 0), "not introduced", [module("n", (), (("a", ()),), (), ("b", "a", "a"))]),
             ((0, "exports", 1), "twice", [module("n", (("g", "x", "y"),), exports=("y", "y", "x")), good]),
-            ((0, "rules", 0), "head", [module("n", (("g", "x", "x"),), rules=(("x", (1,), (("atom", "q", ()),)),)), good]),
-            ((0, "rules", 1), "head", [module("n", (), (("k", ()),), (("x", ()),), (), (("x", (), ()), ("k", (), ())))]),
-            ((0, "rules", 0), "relation", [module("n", (), (("k", ()),), (("x", ()),), (), (("x", (), (("not", "k", ()),)),))]),
+            ((0, "rules", 0), "head", [module("n", (("g", "x", "x"),), rules=(("x", (1,), (("atom", "q", ()),)),)),
+                good]),
+            ((0, "rules", 1), "head", [module("n", (), (("k", ()),), (("x", ()),), (),
+                (("x", (), ()), ("k", (), ())))]),
+            ((0, "rules", 0), "relation", [module("n", (), (("k", ()),), (("x", ()),), (),
+                (("x", (), (("not", "k", ()),)),))]),
             ((0, "rules", 0), "relation", [module("n", (("g", "k", "k"),), (), (("x", ()),), (),
-                (("x", (), (("atom", "x", ()), ("sum", "less", None, ("?x",), (("atom", "k", ()),)))), ("q", (), ()))), good]),
+                (("x", (), (("atom", "x", ()), ("sum", "less", None, ("?x",), (("atom", "k", ()),)))),
+                    ("q", (), ()))), good]),
             ((1, "rules", 0), "head", [good, module("n", rules=(("x", (), ()),)), module("o", exports=("x",))]),
-            ((0, "exports", 0), "not introduced", [module("n", exports=("x",), rules=(("x", (), ()),)), module("o", exports=("x",))]),
+            ((0, "exports", 0), "not introduced", [module("n", exports=("x",), rules=(("x", (), ()),)),
+                module("o", exports=("x",))]),
         ):
             self.assertEqual(first_problem(modules), (where, why))
             self.problem(where, why, link, modules, None)
@@ -233,12 +251,15 @@ class LinkTest(Linking):
                 self.problem(where, why, compile_module, modules[0], modules[1:])
 
     def test_problems_of_the_linked_program(self):
-        self.wrong_program(("kinds", 1), "values", link, [module("n", (), (("a", ()),)), module("m", (), (("a", (1,)),))], ())
+        self.wrong_program(("kinds", 1), "values", link, [module("n", (), (("a", ()),)),
+            module("m", (), (("a", (1,)),))], ())
         self.wrong_program(("rules", 1), "count", link,
-            [module("n", (), (), (("x", ()),), (), (("x", (1,), ()),)), module("m", (), (), (("x", ()),), (), (("x", (), ()),))], ())
+            [module("n", (), (), (("x", ()),), (), (("x", (1,), ()),)),
+                module("m", (), (), (("x", ()),), (), (("x", (), ()),))], ())
         self.wrong_program(("rules", 0, 0), "form", link,
             [module("n", (), (), (("x", ()),), (), (("x", (), (("same", None, 1),)),))], ())
-        self.wrong_program(("kinds",), "many", link, [module(name, (), (("a", (1,)), ("b", (1,)), ("c", (1,)))) for name in "xyz"], ())
+        self.wrong_program(("kinds",), "many", link, [module(name, (),
+            (("a", (1,)), ("b", (1,)), ("c", (1,)))) for name in "xyz"], ())
         for facts, where, why in (
             ([], ("facts",), "form"), (None, ("facts",), "form"), ((("road", ("a", "b")),), ("facts", 0), "unknown"),
             ((("geo_road", ("a",)),), ("facts", 0), "count"), (FACTS + FACTS, ("facts", 2), "duplicate"),
@@ -254,7 +275,8 @@ class LinkTest(Linking):
             meaning(program)
 
     def test_refusals(self):
-        for modules in (None, (), [], (EMPTY,), [None], [EMPTY, ()], EMPTY, "m", {}, [module(f"m{at}") for at in range(7)],
+        for modules in (None, (), [], (EMPTY,), [None], [EMPTY, ()], EMPTY, "m", {},
+            [module(f"m{at}") for at in range(7)],
                         [EMPTY, module("M")]):
             self.bad("modules", link, modules, None)
             self.bad("modules", origin_of, modules, None, None)
@@ -265,8 +287,10 @@ class CompileTest(Linking):
     def test_a_part(self):
         self.assertEqual(compile_module(WAYS, [PLACES]), (
             "ways",
-            (("way", "relation", "ways_way", (("a", "b", "c"),) * 2), ("edge", "relation", "geo_road", (("a", "b", "c"),) * 2)),
-            (("geo", ("road", "relation", "geo_road", (("a", "b", "c"),) * 2)), ("geo", ("place", "kind", "geo_place", (("a", "b", "c"),)))),
+            (("way", "relation", "ways_way", (("a", "b", "c"),) * 2),
+                ("edge", "relation", "geo_road", (("a", "b", "c"),) * 2)),
+            (("geo", ("road", "relation", "geo_road", (("a", "b", "c"),) * 2)),
+                ("geo", ("place", "kind", "geo_place", (("a", "b", "c"),)))),
             (), (("ways_way", ("geo_place", "geo_place")),), (
                 ("ways_way", ("?x", "?y"), (("atom", "geo_road", ("?x", "?y")),)),
                 ("ways_way", ("?x", "?z"), (("atom", "ways_way", ("?x", "?y")), ("atom", "geo_road", ("?y", "?z")))),
@@ -285,7 +309,8 @@ class CompileTest(Linking):
         self.assertEqual(interface_of(FAR, []), (("alone", "relation", "far_alone", ((),)),))
         self.assertEqual(interface_of(WAYS, []), (("way", "relation", "ways_way", ((), ())),))
         self.assertEqual(interface_of(WAYS, [PLACES]), compile_module(WAYS, [PLACES])[1])
-        wrong = module("n", (("no", "x", "x"),), (("a", ()),), (("a", ()), ("b", ("a", "b"))), ("a", "b", "a", "c", "x"), (("z", (), ()),))
+        wrong = module("n", (("no", "x", "x"),), (("a", ()),), (("a", ()), ("b", ("a", "b"))),
+            ("a", "b", "a", "c", "x"), (("z", (), ()),))
         entry = ("a", "kind", "n_a", ((),))
         self.assertEqual(interface_of(wrong, []), (entry, ("b", "relation", "n_b", ((), ())), entry))
 
@@ -312,7 +337,8 @@ class CompileTest(Linking):
         for wrong in (None, (), [], "m", EMPTY[:5], [EMPTY], module("M")):
             for call in (compile_module, interface_of):
                 self.bad("module", call, wrong, None)
-        for others in (None, (), EMPTY, (PLACES,), [None], [EMPTY[:5]], [PLACES, module("M")], [module(f"m{at}") for at in range(6)]):
+        for others in (None, (), EMPTY, (PLACES,), [None], [EMPTY[:5]], [PLACES, module("M")],
+                [module(f"m{at}") for at in range(6)]):
             for call in (compile_module, interface_of):
                 self.bad("others", call, EMPTY, others)
         self.assertEqual(interface_of(EMPTY, [module(f"m{at}") for at in range(5)]), ())
@@ -403,14 +429,16 @@ class DrawnTest(Linking):
             parts = []
             for index, one in enumerate(modules):
                 parts.append(compile_module(one, modules[:index] + modules[index + 1:]))
-                uses = [(source, slow_entry(modules, dict((m[0], m) for m in modules)[source], there)) for source, there, _ in one[1]]
+                uses = [(source, slow_entry(modules, dict((m[0], m) for m in modules)[source], there)) for source,
+                    there, _ in one[1]]
                 self.assertEqual(parts[index][2], tuple(uses))
             for order in permutations(range(len(modules))):
                 self.assertTrue(same_program(link([modules[at] for at in order], ()), program), seed)
                 chosen = [parts[at] for at in order]
                 self.assertTrue(same_program(link_parts(chosen, ()), program), seed)
                 self.assertEqual(stale(chosen), [])
-            self.assertEqual([compile_module(one, [other for other in modules[::-1] if other != one]) for one in modules], parts)
+            self.assertEqual([compile_module(one,
+                [other for other in modules[::-1] if other != one]) for one in modules], parts)
 
     def test_private_names_can_be_replaced(self):
         counted = 0
@@ -430,7 +458,8 @@ class DrawnTest(Linking):
                 continue
             after = meaning(link([*modules[:at], other, *modules[at + 1:]], ()))
             names = {f"{one[0]}_{old}": f"{one[0]}_{new}" for old, new in private.items()}
-            self.assertEqual(tuple(tuple((names.get(name, name), row) for name, row in atoms) for atoms in before), after)
+            self.assertEqual(tuple(tuple((names.get(name, name), row) for name, row in atoms) for atoms in before),
+                after)
             counted += len(names) > 0
         self.assertGreater(counted, 30)
 

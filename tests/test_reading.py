@@ -43,23 +43,32 @@ class NextTokensTest(Reading):
     def test_what_can_come(self):
         for text, found in (
             ("", [*START, "the end"]), ("  # only this", [*START, "the end"]), ("fact p.", [*START, "the end"]),
-            ("kind", ["a name"]), ("kind n", ['"="']), ("kind n =", ['"{"']), ("kind n = {", ["a name", "a number", '"-"']),
-            ("kind n = {-", ["a number"]), ("kind n = {-1", ['"}"', '","']), ("kind n = {a, ", ["a name", "a number", '"-"']),
-            ("kind n = {a}", ['"."']), ("relation", ["a name"]), ("relation p", ['"("', '"."']), ("relation p(", ["a name"]),
-            ("relation p(n", ['")"', '","']), ("relation p(n,", ["a name"]), ("relation p(n)", ['"."']), ("fact", ["a name"]),
+            ("kind", ["a name"]), ("kind n", ['"="']), ("kind n =", ['"{"']),
+            ("kind n = {", ["a name", "a number", '"-"']),
+            ("kind n = {-", ["a number"]), ("kind n = {-1", ['"}"', '","']),
+            ("kind n = {a, ", ["a name", "a number", '"-"']),
+            ("kind n = {a}", ['"."']), ("relation", ["a name"]), ("relation p", ['"("', '"."']),
+            ("relation p(", ["a name"]),
+            ("relation p(n", ['")"', '","']), ("relation p(n,", ["a name"]), ("relation p(n)", ['"."']),
+            ("fact", ["a name"]),
             ("fact p", ['"("', '"."']), ("fact p(", ["a name", "a number", '"-"']), ("fact p(a", ['")"', '","']),
             ("rule", ["a name"]), ("rule p", ["if", '"("', '"."']), ("rule p(", TERM), ("rule p(?x", ['")"', '","']),
             ("rule p(?x, ", TERM), ("rule p(?x)", ["if", '"."']), ("rule p if", LITERAL), ("rule p if q,", LITERAL),
-            ("rule p if not", ["a name"]), ("rule p if not q", ['"("', '"."', '","']), ("rule p if not q(a)", ['"."', '","']),
-            ("rule p if q", ["same", "differ", '"("', '"."', '","']), ("rule p if q(", TERM), ("rule p if q(1)", ['"."', '","']),
+            ("rule p if not", ["a name"]), ("rule p if not q", ['"("', '"."', '","']),
+            ("rule p if not q(a)", ['"."', '","']),
+            ("rule p if q", ["same", "differ", '"("', '"."', '","']), ("rule p if q(", TERM),
+            ("rule p if q(1)", ['"."', '","']),
             ("rule p if a same", TERM), ("rule p if a differ -", ["a number"]), ("rule p if a same b", ['"."', '","']),
-            ("rule p if -", ["a number"]), ("rule p if -1", ["same", "differ", *SIGNS, *SUMS]), ("rule p if -1 differ", TERM),
+            ("rule p if -", ["a number"]), ("rule p if -1", ["same", "differ", *SIGNS, *SUMS]),
+            ("rule p if -1 differ", TERM),
             ("rule p if (", FACTOR), ("rule p if (1", ['")"', *SUMS]), ("rule p if (1)", [*SIGNS, *SUMS]),
             ("rule p if ?x +", FACTOR), ("rule p if ?x + -", ["a number"]), ("rule p if ?x * 2", [*SIGNS, *SUMS]),
-            ("rule p if ?x =", FACTOR), ("rule p if ?x = 2", ['"."', '","', *SUMS]), ("rule p if ?x = (2", ['")"', *SUMS]),
+            ("rule p if ?x =", FACTOR), ("rule p if ?x = 2", ['"."', '","', *SUMS]),
+            ("rule p if ?x = (2", ['")"', *SUMS]),
             ("rule p if sum", ['"{"']), ("rule p if sum {", ["a variable"]), ("rule p if sum {?x", ['","', '":"']),
             ("rule p if sum {?x, ", ["a variable"]), ("rule p if sum {?x:", INNER),
-            ("rule p if sum {?x: q", ["same", "differ", '"}"', '"("', '","']), ("rule p if sum {?x: q(?x)", ['"}"', '","']),
+            ("rule p if sum {?x: q", ["same", "differ", '"}"', '"("', '","']),
+            ("rule p if sum {?x: q(?x)", ['"}"', '","']),
             ("rule p if sum {?x: q(?x), ", INNER), ("rule p if sum {?x: ?x < 2", ['"}"', '","', *SUMS]),
             ("rule p if sum {?x: q}", SIGNS), ("rule p if sum {?x: q} <", FACTOR),
             ("rule p if sum {?x: q} < 1", ['"."', '","', *SUMS]), ("rule p if sum {?x: q} < 1,", LITERAL),
@@ -116,10 +125,12 @@ class NextTokensTest(Reading):
 class ReadProgramTest(Reading):
     def test_the_example(self):
         program = read_program(EXAMPLE)
-        counted = ("count", "atleast", ("times", var("?n"), ("minus", number(2), number(1))), ("?m",), (("atom", "p", ("?m",)),))
+        counted = ("count", "atleast", ("times", var("?n"), ("minus", number(2), number(1))), ("?m",),
+            (("atom", "p", ("?m",)),))
         self.assertTrue(same_program(program, Program(
             kinds=(("few", (0, 1, 2)),), relations=(("p", ("few",)), ("q", ())), facts=(("p", (1,)),), rules=(
-                ("q", (), (("atom", "p", ("?x",)), ("less", number(1), ("plus", var("?x"), number(1))), ("not", "p", (0,)))),
+                ("q", (), (("atom", "p", ("?x",)), ("less", number(1), ("plus", var("?x"), number(1))),
+                    ("not", "p", (0,)))),
                 ("p", ("?n",), (counted,)),
             ))))
         self.problem(1, 26, "unknown", read_program, "relation q. rule q if q, r.")
@@ -129,18 +140,21 @@ class ReadProgramTest(Reading):
             self.assertTrue(same_program(read_program(text), Program()))
 
     def test_statements_in_any_order(self):
-        parts = ["kind b = {1}.", "relation q.", "rule p(?x) if q, p(?x).", "fact p(a).", "kind a = {a, b}.", "fact q.", "relation p(a).",
+        parts = ["kind b = {1}.", "relation q.", "rule p(?x) if q, p(?x).", "fact p(a).", "kind a = {a, b}.",
+            "fact q.", "relation p(a).",
                  "rule q.", "fact p(b)."]
         first = read_program(" ".join(parts))
         self.assertEqual((first.kinds, first.relations, first.rules, first.facts), (
             (("b", (1,)), ("a", ("a", "b"))), (("q", ()), ("p", ("a",))),
-            (("p", ("?x",), (("atom", "q", ()), ("atom", "p", ("?x",)))), ("q", (), ())), (("p", ("a",)), ("q", ()), ("p", ("b",)))))
+            (("p", ("?x",), (("atom", "q", ()), ("atom", "p", ("?x",)))), ("q", (), ())),
+            (("p", ("a",)), ("q", ()), ("p", ("b",)))))
         order = {"kind": 0, "relation": 1, "rule": 2, "fact": 3}
         again = sorted(parts, key=lambda part: -order[part.split()[0]])
         self.assertTrue(same_program(read_program("\n".join(again)), first))
 
     def test_the_values_of_a_kind_are_put_in_order(self):
-        self.assertEqual(read_program("kind k = {b, 10, -2, a_1, 9, - 1000, a}.").kinds, (("k", (-1000, -2, 9, 10, "a", "a_1", "b")),))
+        self.assertEqual(read_program("kind k = {b, 10, -2, a_1, 9, - 1000, a}.").kinds,
+            (("k", (-1000, -2, 9, 10, "a", "a_1", "b")),))
         self.problem(1, 13, "values", read_program, "relation p. kind k = {1, a, 1}.")
         self.problem(1, 1, "values", read_program, "kind k = {0, -0}.")
 
@@ -152,15 +166,22 @@ class ReadProgramTest(Reading):
     def test_problems_of_programs_and_their_places(self):
         for line, column, words, text in (
             (1, 1, "duplicate", "kind n = {1}."), (2, 1, "duplicate", "\nkind n = {1}."),
-            (1, 1, "kind", "relation s(n, m)."), (1, 2, "columns", " relation s(n, n, n, n, n)."), (1, 1, "duplicate", "relation q."),
-            (1, 1, "unknown", "fact s."), (1, 1, "count", "fact p."), (1, 1, "value", "fact p(2)."), (1, 9, "duplicate", "fact q. fact q."),
-            (1, 1, "unknown", "rule s."), (1, 1, "count", "rule p."), (1, 1, "value", "rule p(2)."), (2, 2, "value", "rule q.\n rule p(2)."),
-            (1, 1, "many", "rule q if q, q, q, q, q, q, q."), (1, 14, "unknown", "rule q if q, s."), (1, 11, "count", "rule q if not p."),
+            (1, 1, "kind", "relation s(n, m)."), (1, 2, "columns", " relation s(n, n, n, n, n)."),
+            (1, 1, "duplicate", "relation q."),
+            (1, 1, "unknown", "fact s."), (1, 1, "count", "fact p."), (1, 1, "value", "fact p(2)."),
+            (1, 9, "duplicate", "fact q. fact q."),
+            (1, 1, "unknown", "rule s."), (1, 1, "count", "rule p."), (1, 1, "value", "rule p(2)."),
+            (2, 2, "value", "rule q.\n rule p(2)."),
+            (1, 1, "many", "rule q if q, q, q, q, q, q, q."), (1, 14, "unknown", "rule q if q, s."),
+            (1, 11, "count", "rule q if not p."),
             (1, 11, "value", "rule q if not p(2)."), (1, 14, "deep", "rule q if q, 1 = ((((1 + 1) + 1) + 1) + 1)."),
             (1, 11, "deep", "rule q if 1 + 1 + 1 + 1 + 1 < 2."),
-            (1, 11, "variables", "rule q if count {?x, ?x: p(?x)} = 1."), (1, 11, "many", "rule q if count {?x: p(?x), q, q, q} = 1."),
-            (1, 28, "unknown", "rule q if q, count {?x: q, s} = 1."), (1, 25, "count", "rule q if q, count {?x: p, q} = 1."),
-            (3, 1, "deep", "rule q if count {?x: p(?x),\nq,\n1 < 1 + 1 + 1 + 1 + 1} = 1."), (1, 1, "unsafe", "rule q if not p(?x)."),
+            (1, 11, "variables", "rule q if count {?x, ?x: p(?x)} = 1."),
+            (1, 11, "many", "rule q if count {?x: p(?x), q, q, q} = 1."),
+            (1, 28, "unknown", "rule q if q, count {?x: q, s} = 1."),
+            (1, 25, "count", "rule q if q, count {?x: p, q} = 1."),
+            (3, 1, "deep", "rule q if count {?x: p(?x),\nq,\n1 < 1 + 1 + 1 + 1 + 1} = 1."),
+            (1, 1, "unsafe", "rule q if not p(?x)."),
             (1, 1, "variables", "rule q if r(?a, ?b), r(?c, ?d), r(?e, ?f)."), 
             (1, 40, "variables", "rule q if q, q, count {?x: p(?x)} = 1, count {?x: p(?x)} = 1."),
             (1, 18, "number", "rule q if p(?x), ?x < 1."), (1, 11, "number", "rule q if sum {?x: p(?x)} = 1."),
@@ -214,9 +235,11 @@ class ReadProgramTest(Reading):
 class ReadRuleTest(Reading):
     def test_heads_and_bodies(self):
         for text, rule in (
-            ("q.", ("q", (), ())), ("p(?x, -1, a, 0).", ("p", ("?x", -1, "a", 0), ())), ("q if r.", ("q", (), (("atom", "r", ()),))),
+            ("q.", ("q", (), ())), ("p(?x, -1, a, 0).", ("p", ("?x", -1, "a", 0), ())),
+            ("q if r.", ("q", (), (("atom", "r", ()),))),
             ("q if not r(?x), r(?x).", ("q", (), (("not", "r", ("?x",)), ("atom", "r", ("?x",))))),
-            ("q if a same ?x, -1 differ b, ?x same 2.", ("q", (), (("same", "a", "?x"), ("differ", -1, "b"), ("same", "?x", 2)))),
+            ("q if a same ?x, -1 differ b, ?x same 2.", ("q", (),
+                (("same", "a", "?x"), ("differ", -1, "b"), ("same", "?x", 2)))),
             (" q # a\nif\tr .", ("q", (), (("atom", "r", ()),))),
         ):
             self.assertEqual(read_rule(text), rule, text)
@@ -227,8 +250,10 @@ class ReadRuleTest(Reading):
     def test_comparisons(self):
         x, y = var("?x"), var("?y")
         for text, literal in (
-            ("?x = ?y", ("equal", x, y)), ("?x < ?y", ("less", x, y)), ("?x <= ?y", ("atmost", x, y)), ("?x > ?y", ("less", y, x)),
-            ("?x >= ?y", ("atmost", y, x)), ("1=-1", ("equal", number(1), number(-1))), ("- 3 < ?x", ("less", number(-3), x)),
+            ("?x = ?y", ("equal", x, y)), ("?x < ?y", ("less", x, y)), ("?x <= ?y", ("atmost", x, y)),
+            ("?x > ?y", ("less", y, x)),
+            ("?x >= ?y", ("atmost", y, x)), ("1=-1", ("equal", number(1), number(-1))),
+            ("- 3 < ?x", ("less", number(-3), x)),
         ):
             self.assertEqual(self.comparison(text), literal, text)
             self.assertEqual(read_rule(f"q if count {{?z: p(?z), {text}}} = 0.")[2][0][4][1], literal)
@@ -246,10 +271,12 @@ class ReadRuleTest(Reading):
             ("?x - 1 - 2", ("minus", ("minus", x, one), two)), ("?x - (1 - 2)", ("minus", x, ("minus", one, two))),
             ("1 + 2 * 3", ("plus", one, ("times", two, three))), ("(1 + 2) * 3", ("times", ("plus", one, two), three)),
             ("1 * 2 + 3", ("plus", ("times", one, two), three)), ("1 * 2 * 3", ("times", ("times", one, two), three)),
-            ("1 * (2 * 3)", ("times", one, ("times", two, three))), ("((?x))", x), ("(((1)) + ((2)))", ("plus", one, two)),
+            ("1 * (2 * 3)", ("times", one, ("times", two, three))), ("((?x))", x),
+            ("(((1)) + ((2)))", ("plus", one, two)),
             ("?x-1", ("minus", x, one)), ("?x - -1", ("minus", x, number(-1))), ("?x--1", ("minus", x, number(-1))),
             ("- 1 - - 1", ("minus", number(-1), number(-1))), ("-1 * -2", ("times", number(-1), number(-2))),
-            ("2 + 3 - 1 * 1", ("minus", ("plus", two, three), ("times", one, one))), ("-0", number(0)), ("(-1)", number(-1)),
+            ("2 + 3 - 1 * 1", ("minus", ("plus", two, three), ("times", one, one))), ("-0", number(0)),
+            ("(-1)", number(-1)),
             ("(1) * ?x", ("times", one, x)), ("1 + (2 - 3) + ?x", ("plus", ("plus", one, ("minus", two, three)), x)),
         ):
             self.assertEqual(self.comparison(f"{text} = 0"), ("equal", expression, number(0)), text)
@@ -265,9 +292,11 @@ class ReadRuleTest(Reading):
     def test_problems(self):
         for line, column, words, text in (
             (1, 1, "expected a name", ""), (1, 1, "expected a name", "rule q."), (1, 2, 'expected if, "(" or "."', "q"),
-            (1, 3, "expected the end", "q.q"), (1, 4, "expected the end", "q. rule q."), (1, 1, "expected a name", "?x."),
+            (1, 3, "expected the end", "q.q"), (1, 4, "expected the end", "q. rule q."),
+            (1, 1, "expected a name", "?x."),
             (1, 4, 'expected a name, a variable, a number or "-"', "q( )"), (1, 5, 'expected ")" or ","', "q(a b)"),
-            (1, 12, 'expected "(", "." or ","', "q if not q if"), (1, 8, "no token begins here", "q if ( !"), (2, 1, "expected a number", "q if -\n?x"),
+            (1, 12, 'expected "(", "." or ","', "q if not q if"), (1, 8, "no token begins here", "q if ( !"),
+            (2, 1, "expected a number", "q if -\n?x"),
             (1, 8, 'expected same, differ, "=", "<", "<=", ">", ">=", "+", "-" or "*"', "q if 1 , q."),
             (1, 16, 'expected "}", ",", "+", "-" or "*"', "q if sum{?x:1=2.}"),
         ):
@@ -283,13 +312,15 @@ class ReadRuleTest(Reading):
 class ReadAtomTest(Reading):
     def test_atoms(self):
         program = read_program(HEAD + "kind m = {-5, x}. relation w(m, n).")
-        for text, atom in (("q", ("q", ())), ("p(1)", ("p", (1,))), (" r ( a , 0 ) ", ("r", ("a", 0))), ("w(-5, a)", ("w", (-5, "a"))),
+        for text, atom in (("q", ("q", ())), ("p(1)", ("p", (1,))), (" r ( a , 0 ) ", ("r", ("a", 0))),
+            ("w(-5, a)", ("w", (-5, "a"))),
                            ("w(x,1)#", ("w", ("x", 1))), ("p(0001)", ("p", (1,))), ("p(-0)", ("p", (0,)))):
             self.assertEqual(read_atom(program, text), atom, text)
 
     def test_atoms_that_are_none_of_the_program(self):
         program = read_program(HEAD)
-        for text, words in (("s", "unknown"), ("s(1, 2)", "unknown"), ("p", "count"), ("q(1)", "count"), ("p(1, 1)", "count"), ("p(2)", "value"),
+        for text, words in (("s", "unknown"), ("s(1, 2)", "unknown"), ("p", "count"), ("q(1)", "count"),
+            ("p(1, 1)", "count"), ("p(2)", "value"),
                             ("p(-1)", "value"), ("r(a, b)", "value"), ("n", "unknown")):
             self.problem(1, 1, words, read_atom, program, text)
             self.problem(2, 3, words, read_atom, program, " # a\n  " + text)
@@ -298,8 +329,10 @@ class ReadAtomTest(Reading):
         program = read_program(HEAD)
         for line, column, words, text in (
             (1, 1, "expected a name", ""), (1, 1, "expected a name", "not q"), (1, 2, 'expected "(" or the end', "q."),
-            (1, 3, 'expected a name, a number or "-"', "p(?x)"), (1, 4, 'expected ")" or ","', "p(1"), (1, 5, "expected the end", "p(1)."),
-            (1, 4, 'expected a name, a number or "-"', "s( )"), (1, 5, "no token begins here", "s(. !"), (1, 4, "expected a number", "p(-a)"),
+            (1, 3, 'expected a name, a number or "-"', "p(?x)"), (1, 4, 'expected ")" or ","', "p(1"),
+            (1, 5, "expected the end", "p(1)."),
+            (1, 4, 'expected a name, a number or "-"', "s( )"), (1, 5, "no token begins here", "s(. !"),
+            (1, 4, "expected a number", "p(-a)"),
         ):
             self.problem(line, column, words, read_atom, program, text)
 
@@ -324,7 +357,8 @@ class ReadAtomTest(Reading):
 
 class WalkTest(Reading):
     def test_drawn_rules_and_atoms_end_where_the_grammar_ends(self):
-        for start, call in (("WHOLE_RULE", read_rule), ("WHOLE_ATOM", lambda text: read_atom(Program(relations=(("a", ()),)), text))):
+        for start, call in (("WHOLE_RULE", read_rule), ("WHOLE_ATOM",
+                lambda text: read_atom(Program(relations=(("a", ()),)), text))):
             for seed in range(150):
                 chance = random.Random(seed)
                 walk = Walk(start)

@@ -26,7 +26,8 @@ def short(text):
 class TokenTest(Texts):
     def test_the_empty_text_blanks_and_comments(self):
         for text, line, column in (
-            ("", 1, 1), (" ", 1, 2), ("\n", 2, 1), ("\t\t", 1, 3), ("\n\n  ", 3, 3), ("#", 1, 2), ("# a comment", 1, 12),
+            ("", 1, 1), (" ", 1, 2), ("\n", 2, 1), ("\t\t", 1, 3), ("\n\n  ", 3, 3), ("#", 1, 2),
+            ("# a comment", 1, 12),
             ("#\n", 2, 1), ("#a\n#b", 2, 3), (" # \u00e9 ?! %\r\n\n", 3, 1),
         ):
             self.assertEqual(scan(text), [("end", "", line, column)], text)
@@ -46,9 +47,11 @@ class TokenTest(Texts):
     def test_tokens_are_as_long_as_possible(self):
         for text, tokens in (
             ("<==>=>", ["<=", "=", ">=", ">"]), ("<<=", ["<", "<="]), ("=<", ["=", "<"]), ("--1", ["-", "-", "1"]),
-            ("12ab", ["12", "ab"]), ("ab12_c", ["ab12_c"]), ("?x?y", ["?x", "?y"]), ("?x_a", None), ("a?b1", ["a", "?b1"]),
+            ("12ab", ["12", "ab"]), ("ab12_c", ["ab12_c"]), ("?x?y", ["?x", "?y"]), ("?x_a", None),
+            ("a?b1", ["a", "?b1"]),
             ("?1a.b", ["?1a", ".", "b"]), ("notq", ["notq"]), ("not(q", ["not", "(", "q"]), ("1?x1", ["1", "?x1"]),
-            ("kind#a\nrule", ["kind", "rule"]), ("a#b", ["a"]), ("<#\n=", ["<", "="]), ("1000", ["1000"]), ("< =", ["<", "="]),
+            ("kind#a\nrule", ["kind", "rule"]), ("a#b", ["a"]), ("<#\n=", ["<", "="]), ("1000", ["1000"]),
+            ("< =", ["<", "="]),
         ):
             if tokens is None:
                 self.problem(1, 3, "no token begins here", scan, text)
@@ -58,7 +61,8 @@ class TokenTest(Texts):
     def test_places(self):
         text = "kind  n\t=\n  {a,#x\n\n1}.\n"
         self.assertEqual(scan(text), [
-            ("reserved", "kind", 1, 1), ("name", "n", 1, 7), ("sign", "=", 1, 9), ("sign", "{", 2, 3), ("name", "a", 2, 4),
+            ("reserved", "kind", 1, 1), ("name", "n", 1, 7), ("sign", "=", 1, 9), ("sign", "{", 2, 3),
+            ("name", "a", 2, 4),
             ("sign", ",", 2, 5), ("number", "1", 4, 1), ("sign", "}", 4, 2), ("sign", ".", 4, 3), ("end", "", 5, 1),
         ])
         self.assertEqual(scan("a  # b")[-1], ("end", "", 1, 7))
@@ -75,11 +79,13 @@ class TokenTest(Texts):
 
 class ProblemTest(Texts):
     def test_characters_that_begin_no_token(self):
-        for character in ("A", "_", "!", "?", "%", '"', "'", "/", "[", ";", "\r", "\x0b", "\f", "\u00a0", "\u00e9", "\u00b2",
+        for character in ("A", "_", "!", "?", "%", '"', "'", "/", "[", ";", "\r", "\x0b", "\f", "\u00a0", "\u00e9",
+            "\u00b2",
                           "\u0663", "\u2028", "\x00", "\x85", "&", "|", "~", "\\", "@", "\u01c5"):
             self.problem(1, 1, "no token begins here", scan, character)
             self.problem(2, 3, "no token begins here", scan, "a\n  " + character + " b")
-        for text, column in (("aB", 2), ("a\u00e9", 2), ("1_", 2), ("??x", 1), ("?X", 1), ("? x", 1), ("?_", 1), ("x?", 2), ("?\n", 1)):
+        for text, column in (("aB", 2), ("a\u00e9", 2), ("1_", 2), ("??x", 1), ("?X", 1), ("? x", 1), ("?_", 1),
+                ("x?", 2), ("?\n", 1)):
             self.problem(1, column, "no token begins here", scan, text)
 
     def test_words_of_12_and_13_characters(self):
@@ -126,7 +132,8 @@ class ProblemTest(Texts):
     def test_drawn_texts(self):
         for seed in range(300):
             chance = random.Random(seed)
-            tokens = [chance.choice(("a", "kind", "?x1", "12", "=", "<=", "{", "}", ".", "-", "not", "z_9")) for _ in range(30)]
+            tokens = [chance.choice(("a", "kind", "?x1", "12", "=", "<=", "{", "}", ".", "-", "not",
+                "z_9")) for _ in range(30)]
             gaps = [chance.choice((" ", "\n", " \t", "#b(!\n", "\n\n")) for _ in tokens]
             text = "".join(gap + token for gap, token in zip(gaps, tokens))
             found = scan(text)

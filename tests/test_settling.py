@@ -108,7 +108,8 @@ class RefusalTest(Checks):
         self.assertEqual(caught.exception.what, "instances")
 
     def test_names(self):
-        for names in (None, True, "p", (), ("p",), {}, {"p": 1}, ["p", "p"], ["p", "q", "p"], ["v"], ["p", "v"], [""], [None],
+        for names in (None, True, "p", (), ("p",), {}, {"p": 1}, ["p", "p"], ["p", "q", "p"], ["v"], ["p", "v"], [""],
+            [None],
                       [True], [["p"]], [P], ["p", ()], ["P"], [{}]):
             self.bad("names", settled, EXAMPLE, names)
 
@@ -121,14 +122,16 @@ class RefusalTest(Checks):
         kinds = (("n", tuple(range(12))),)
         rules = tuple((name, ("?x",), (("not", name, ("?x",)),)) for name in "pq") + (("r", (0,), ()),)
         program = Program(kinds=kinds, relations=tuple((name, ("n",)) for name in "pqr"), rules=rules)
-        self.assertEqual([len(settled(program, names).rules) for names in (["p"], ["q", "r"], ["p", "q", "r"])], [14, 13, 24])
+        self.assertEqual([len(settled(program, names).rules) for names in (["p"], ["q", "r"], ["p", "q", "r"])],
+            [14, 13, 24])
         self.problem("rules", program, ["p", "q"])
         self.bad("names", settled, program, ["p", "q", "v"])
 
     def test_too_many_facts(self):
         rules = (("p", (0, 0, "?x", "?y"), (("atom", "q", ("?x",)), ("atom", "q", ("?y",)))),)
         facts = tuple(("p", (1, *cell[:1], *cell)) for cell in CELLS[:50]) + tuple(("q", (at,)) for at in range(12))
-        program = Program(kinds=(("n", tuple(range(12))),), relations=(("p", ("n",) * 4), ("q", ("n",))), rules=rules, facts=facts)
+        program = Program(kinds=(("n", tuple(range(12))),), relations=(("p", ("n",) * 4), ("q", ("n",))), rules=rules,
+            facts=facts)
         self.assertEqual(len(settled(program, ["q"]).facts), 62)
         self.problem("facts", program, ["p"])
         fewer = Program(kinds=program.kinds, relations=program.relations, rules=rules, facts=facts[6:])

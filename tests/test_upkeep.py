@@ -237,7 +237,8 @@ class KeptTest(Upkeep):
 
     def test_the_order_of_what_is_returned_is_that_of_names_and_values(self):
         kinds = (("mixed", (-3, 2, 10, "a", "b")),)
-        atoms = [("b", ("a",)), ("b", (10,)), ("a", (2, "b")), ("b", (-3,)), ("a", (2, 10)), ("a", ("a", -3)), ("b", (2,))]
+        atoms = [("b", ("a",)), ("b", (10,)), ("a", (2, "b")), ("b", (-3,)), ("a", (2, 10)), ("a", ("a", -3)),
+            ("b", (2,))]
         kept = Kept(Program(kinds=kinds, relations=(("b", ("mixed",)), ("a", ("mixed", "mixed")))))
         told = kept.change([("add", atom) for atom in atoms])
         self.assertEqual([atom for atom, _, _ in told], [atoms[at] for at in (4, 2, 5, 3, 6, 1, 0)])
@@ -282,7 +283,8 @@ class RefusalTest(Upkeep):
             Kept(TOO_LARGE)
         self.assertEqual(caught.exception.what, "instances")
         kept = Kept(game("ab"))
-        for atom in (None, "win", ("win",), ("win", ()), ("win", ("f",)), ("won", ("a",)), ("win", ["a"]), ["win", ("a",)],
+        for atom in (None, "win", ("win",), ("win", ()), ("win", ("f",)), ("won", ("a",)), ("win", ["a"]),
+            ["win", ("a",)],
                      ("win", ("a", "b")), ("win", ("?x",)), ("win", (1,)), ("move", ("a",)), (("win",), ("a",))):
             self.bad("atom", kept.value, atom)
 
@@ -304,7 +306,8 @@ class RefusalTest(Upkeep):
             ("withdraw", P), ("withdraw", None), ("withdraw", ("v", ())), ("withdraw", S, S), ("withdraw", 0),
             ("withdraw",), ("insert", 0), ("insert", rule), ("insert", -1, rule), ("insert", 2, rule),
             ("insert", True, rule), ("insert", "0", rule), ("insert", None, rule), ("insert", 0, None),
-            ("insert", 0, ("q", ())), ("insert", 0, ["q", (), ()]), ("insert", 0, (1, (), ())), ("insert", 0, ("q", [], ())),
+            ("insert", 0, ("q", ())), ("insert", 0, ["q", (), ()]), ("insert", 0, (1, (), ())),
+            ("insert", 0, ("q", [], ())),
             ("insert", 0, rule, 1), ("remove",), ("remove", 1), ("remove", -1), ("remove", False), ("remove", "0"),
             ("remove", None), ("remove", 0, rule), ("insert", 0, ("q", (), None)), (["add"], P), ({}, P), ("change", 0),
         ):
@@ -357,7 +360,8 @@ class RefusalTest(Upkeep):
 
     def test_programs_that_are_too_large(self):
         kept = Kept(Program(kinds=TOO_LARGE.kinds, relations=TOO_LARGE.relations, facts=(("h", (0, 0, 0)),)))
-        for changes in ([("insert", 0, TOO_LARGE.rules[0])], [("add", ("h", (1, 1, 1))), ("insert", 0, TOO_LARGE.rules[0])]):
+        for changes in ([("insert", 0, TOO_LARGE.rules[0])], [("add", ("h", (1, 1, 1))),
+                ("insert", 0, TOO_LARGE.rules[0])]):
             with self.assertRaises(TooLarge) as caught:
                 kept.change(changes)
             self.assertEqual(caught.exception.what, "instances")

@@ -16,7 +16,8 @@ from tests.test_scanning import Texts
 from tests.test_steps import Checks
 
 START = "kind n = {a, b}. relation p(n). relation q(n). rule q(?x) if p(?x), not q(b). fact p(a)."
-LINES = ["kind n = {a, b}.\n", "relation p(n).\n", "relation q(n).\n", "rule q(?x) if p(?x), not q(b).\n", "fact p(a).\n"]
+LINES = ["kind n = {a, b}.\n", "relation p(n).\n", "relation q(n).\n", "rule q(?x) if p(?x), not q(b).\n",
+    "fact p(a).\n"]
 PRESENT = "".join(LINES)
 LARGE = "kind k = {0, 1, 2, 3, 4, 5, 6, 7, 8, 9, 10, 11}. relation h(k, k, k). rule h(?x, ?y, ?z)."
 
@@ -97,7 +98,8 @@ class EditTest(Bench):
 
     def test_lines_put_in_taken_out_and_replaced(self):
         fresh = "fact p(b).\n"
-        for text in ("fact p(b).", "fact p(b).\n", "\nfact p(b).\n\n", "fact p(b).  # another", " fact\np(\nb).", "fact p(b).#"):
+        for text in ("fact p(b).", "fact p(b).\n", "\nfact p(b).\n\n", "fact p(b).  # another", " fact\np(\nb).",
+                "fact p(b).#"):
             self.edited(5, 5, text, LINES + [fresh])
             self.edited(4, 4, text, LINES[:4] + [fresh] + LINES[4:])
             self.edited(4, 5, text, LINES[:4] + [fresh])
@@ -111,7 +113,8 @@ class EditTest(Bench):
         self.edited(0, 0, "relation r.", LINES[:1] + ["relation r.\n"] + LINES[1:])
 
     def test_an_edit_that_leads_to_the_same_program(self):
-        for start, end, text in ((0, 0, ""), (5, 5, ""), (2, 2, "#"), (3, 3, " "), (4, 5, "fact p ( a ) ."), (0, 5, PRESENT), (1, 1, "\n")):
+        for start, end, text in ((0, 0, ""), (5, 5, ""), (2, 2, "#"), (3, 3, " "), (4, 5, "fact p ( a ) ."),
+                (0, 5, PRESENT), (1, 1, "\n")):
             bench = Workbench(START)
             self.assertEqual(bench.edit(start, end, text), 1)
             self.assertEqual((bench.text(), bench.changed(), bench.worked, bench.used), (PRESENT, [], 1, 1))
@@ -158,7 +161,8 @@ class EditTest(Bench):
         name, kind = "relation_abc", "kind k={" + ",".join(names) + "}.relation relation_abc(k,k,k,k)."
         atom = f"{name}({names[0]},{names[0]},{names[0]},{names[0]})"
         rules = [f"rule {atom}if " + ",".join([atom] * 6) + "."] * 24
-        facts = [f"fact {name}({first},{second},{third},{names[1]})." for first in names for second in names for third in names]
+        facts = [f"fact {name}({first},{second},{third},{names[1]})."
+            for first in names for second in names for third in names]
         text = kind + "".join(rules + facts[:118])
         self.assertLessEqual(len(text), 20000)
         bench = Workbench(text)
@@ -225,8 +229,10 @@ class UndoTest(Bench):
         bench.edit(6, 6, "fact q(b).")
         bench.undo()
         self.assertEqual(bench.settle(), 1)
-        self.assertEqual((bench.text(), bench.undo(), bench.redo(), bench.changed()), (PRESENT + "fact p(b).\n", None, None, None))
-        self.assertEqual(bench.journal(), [("settle",), ("edit", 5, 5, "fact p(b)."), ("edit", 6, 6, "fact q(b)."), ("undo",), ("settle",)])
+        self.assertEqual((bench.text(), bench.undo(), bench.redo(), bench.changed()),
+            (PRESENT + "fact p(b).\n", None, None, None))
+        self.assertEqual(bench.journal(), [("settle",), ("edit", 5, 5, "fact p(b)."), ("edit", 6, 6, "fact q(b)."),
+            ("undo",), ("settle",)])
 
     def test_what_does_nothing_is_not_in_the_journal(self):
         bench = Workbench(START)
@@ -366,7 +372,8 @@ class ChangedTest(Bench):
 
     def test_atoms_of_both_programs(self):
         self.assertEqual(self.changes("relation p. fact p.", "relation q. fact q."), [])
-        self.assertEqual(self.changes("relation p. relation q. fact p.", "relation q. relation r. fact q. fact r."), [(("q", ()), "false", "true")])
+        self.assertEqual(self.changes("relation p. relation q. fact p.", "relation q. relation r. fact q. fact r."),
+            [(("q", ()), "false", "true")])
         old = "kind k = {a, b, c}. relation p(k). fact p(a). fact p(c)."
         self.assertEqual(self.changes(old, "kind k = {b, c, d}. relation p(k). fact p(b). fact p(d)."),
             [(("p", ("b",)), "false", "true"), (("p", ("c",)), "true", "false")])
@@ -377,11 +384,14 @@ class ChangedTest(Bench):
 
     def test_the_order_is_that_of_the_present_program(self):
         old = "kind k = {a, b, 1, -1}. relation p(k). relation q(k). relation r."
-        new = "kind k = {a, b, 1, -1}. relation r. relation q(k). relation p(k). rule p(?x). fact q(b). fact q(1). rule r if not r."
+        new = ("kind k = {a, b, 1, -1}. relation r. relation q(k). relation p(k). rule p(?x). fact q(b). fact q(1). "
+            "rule r if not r.")
         atoms = [("r", ()), ("q", (1,)), ("q", ("b",)), ("p", (-1,)), ("p", (1,)), ("p", ("a",)), ("p", ("b",))]
-        self.assertEqual(self.changes(old, new), [(atom, "false", "undecided" if atom[0] == "r" else "true") for atom in atoms])
+        self.assertEqual(self.changes(old, new), [(atom, "false",
+            "undecided" if atom[0] == "r" else "true") for atom in atoms])
         back = [("p", (-1,)), ("p", (1,)), ("p", ("a",)), ("p", ("b",)), ("q", (1,)), ("q", ("b",)), ("r", ())]
-        self.assertEqual(self.changes(new, old), [(atom, "undecided" if atom[0] == "r" else "true", "false") for atom in back])
+        self.assertEqual(self.changes(new, old), [(atom, "undecided" if atom[0] == "r" else "true",
+            "false") for atom in back])
 
     def test_the_last_edit_in_force_counts(self):
         bench = Workbench("relation p. relation q.")
@@ -450,16 +460,20 @@ class ReplayTest(Bench):
 
     def test_refusals(self):
         for journal in (
-            None, (), "undo", {}, [None], ["undo"], [()], [("undo", 1)], [["undo"]], [("Undo",)], [("edit",)], [("edit", 0, 0)],
-            [("edit", 0, 0, "", "")], [("edit", "0", 0, "")], [("edit", 0, None, "")], [("edit", 0, 0, None)], [("edit", True, 0, "")],
-            [("edit", 0, False, "")], [("undo", 0, 0, "")], [(None,)], [(["undo"],)], [("settle",)] * 201, (("undo",),), [("copy",)],
+            None, (), "undo", {}, [None], ["undo"], [()], [("undo", 1)], [["undo"]], [("Undo",)], [("edit",)],
+            [("edit", 0, 0)],
+            [("edit", 0, 0, "", "")], [("edit", "0", 0, "")], [("edit", 0, None, "")], [("edit", 0, 0, None)],
+            [("edit", True, 0, "")],
+            [("edit", 0, False, "")], [("undo", 0, 0, "")], [(None,)], [(["undo"],)], [("settle",)] * 201,
+            (("undo",),), [("copy",)],
         ):
             self.bad("journal", replay, "!", journal)
             self.bad("journal", replay, None, journal)
         self.assertEqual(len(replay(START, [("settle",)] * 200).journal()), 200)
         self.bad("text", replay, None, [])
         self.problem(1, 1, "no token begins here", replay, "!", [("edit", -1, 0, "")])
-        for entry, name in ((("edit", -1, 0, ""), "start"), (("edit", 10 ** 30, 0, ""), "start"), (("edit", 3, 2, ""), "end"),
+        for entry, name in ((("edit", -1, 0, ""), "start"), (("edit", 10 ** 30, 0, ""), "start"),
+            (("edit", 3, 2, ""), "end"),
                             (("edit", 0, 0, "#" * 20001), "text")):
             self.bad(name, replay, START, [("settle",), entry])
         self.problem(1, 1, "no token begins here", replay, START, [("edit", 0, 0, "!")])
@@ -518,7 +532,8 @@ class DrawnTest(Bench):
             text = program_text(program)
             bench, slow = Workbench(text), SlowBench(program)
             for _ in range(25):
-                word = chance.choice(("edit", "edit", "edit", "undo", "redo", "settle", "value", "counts", "changed", "text"))
+                word = chance.choice(("edit", "edit", "edit", "undo", "redo", "settle", "value", "counts", "changed",
+                    "text"))
                 if word == "settle" and chance.random() < 0.7:
                     word = "changed"
                 told = self.call(chance, bench, slow, word, programs)
@@ -600,7 +615,8 @@ class DrawnTest(Bench):
         if chance.random() < 0.3:
             twin, again, fresh = bench.copy(), replay(text, bench.journal()), Workbench(bench.text())
             self.assertEqual((state(twin), in_force(twin)), (state(bench), in_force(bench)))
-            self.assertEqual((again.text(), in_force(again), again.journal()), (bench.text(), in_force(bench), bench.journal()))
+            self.assertEqual((again.text(), in_force(again), again.journal()),
+                (bench.text(), in_force(bench), bench.journal()))
             self.assertEqual(in_force(bench), ([program_text(one) for one in slow.programs], slow.at))
             try:
                 counts = fresh.counts()

@@ -4,7 +4,6 @@ import random
 import unittest
 
 from rulestand.errors import BadProgram
-from rulestand.instances import atoms_of
 from rulestand.programs import Program
 from rulestand.reading import read_atom, read_program, read_rule
 from rulestand.scanning import scan
@@ -13,12 +12,13 @@ from tests.looping_programs import drawn_program
 from tests.random_programs import random_program
 from tests.slow_changes import same_program
 from tests.slow_texts import drawn_expression, drawn_gap, respaced, slow_expression
+from tests.test_meaning import ground_atoms
 from tests.test_steps import NO_PROGRAMS, TOO_LARGE, Checks
 
 NUMBERS = ("n", (-1, 0, 1, 2))
 
 
-def with_body(*literals, own=()):
+def with_body(*literals):
     """Return a program with one rule, q if p(?x), p(?y), p(?z) and these literals."""
     body = tuple(("atom", "p", (name,)) for name in ("?x", "?y", "?z")) + literals
     return Program(kinds=(NUMBERS,), relations=(("p", ("n",)), ("q", ()), ("r", ("n", "n"))), rules=(("q", (), body),))
@@ -63,9 +63,11 @@ class ProgramTextTest(Checks):
     def test_each_part(self):
         program = Program(kinds=(("k", ("a",)), NUMBERS, ("mixed", (-1000, 1000, "a", "b_1"))),
             relations=(("s", ()), ("p", ("n",)), ("t", ("n", "k", "mixed", "n"))),
-            rules=(("s", (), ()), ("p", (-1,), ()), ("t", (1, "a", "b_1", "?x"), (("not", "p", ("?x",)), ("not", "s", ())))),
+            rules=(("s", (), ()), ("p", (-1,), ()), ("t", (1, "a", "b_1", "?x"),
+                (("not", "p", ("?x",)), ("not", "s", ())))),
             facts=(("t", (0, "a", -1000, 2)), ("s", ()), ("p", (1,))))
-        self.assertEqual(program_text(program), "kind k = {a}.\nkind n = {-1, 0, 1, 2}.\nkind mixed = {-1000, 1000, a, b_1}.\n"
+        self.assertEqual(program_text(program),
+            "kind k = {a}.\nkind n = {-1, 0, 1, 2}.\nkind mixed = {-1000, 1000, a, b_1}.\n"
             "relation s.\nrelation p(n).\nrelation t(n, k, mixed, n).\nrule s.\nrule p(-1).\n"
             "rule t(1, a, b_1, ?x) if not p(?x), not s.\nfact t(0, a, -1000, 2).\nfact s.\nfact p(1).\n")
 
@@ -82,7 +84,8 @@ class LiteralTest(Checks):
     def test_comparisons(self):
         for literal, text in (
             (("equal", X, Y), "?x = ?y"), (("less", X, number(-1)), "?x < -1"), (("atmost", number(0), Y), "0 <= ?y"),
-            (("same", "?x", "?y"), "?x same ?y"), (("differ", -1, "a"), "-1 differ a"), (("not", "r", ("?x", 1)), "not r(?x, 1)"),
+            (("same", "?x", "?y"), "?x same ?y"), (("differ", -1, "a"), "-1 differ a"),
+            (("not", "r", ("?x", 1)), "not r(?x, 1)"),
             (("atom", "q", ()), "q"), (("not", "q", ()), "not q"),
         ):
             self.assertEqual(body_text(literal), text)
@@ -93,18 +96,24 @@ class LiteralTest(Checks):
             for word, sign in (("equal", "="), ("less", "<"), ("atmost", "<="), ("more", ">"), ("atleast", ">=")):
                 self.assertEqual(body_text((operation, word, ("minus", X, number(1)), ("?a", "?b"), inner)),
                     f"{operation} {{?a, ?b: r(?a, ?b), ?a < ?x + 1, ?b differ ?x}} {sign} ?x - 1")
-        self.assertEqual(body_text(("count", "equal", number(1), ("?a",), (("atom", "p", ("?a",)),)), ("atom", "q", ())),
+        self.assertEqual(body_text(("count", "equal", number(1), ("?a",), (("atom", "p", ("?a",)),)),
+            ("atom", "q", ())),
             "count {?a: p(?a)} = 1, q")
 
     def test_expressions(self):
         plus, minus, times = [(word, X, Y) for word in ("plus", "minus", "times")]
         for expression, text in (
             (plus, "?x + ?y"), (minus, "?x - ?y"), (times, "?x * ?y"), (("plus", plus, X), "?x + ?y + ?x"),
-            (("plus", X, plus), "?x + (?x + ?y)"), (("minus", minus, X), "?x - ?y - ?x"), (("minus", X, minus), "?x - (?x - ?y)"),
-            (("minus", X, plus), "?x - (?x + ?y)"), (("plus", minus, X), "?x - ?y + ?x"), (("plus", times, times), "?x * ?y + ?x * ?y"),
-            (("minus", X, times), "?x - ?x * ?y"), (("times", plus, X), "(?x + ?y) * ?x"), (("times", X, minus), "?x * (?x - ?y)"),
-            (("times", times, X), "?x * ?y * ?x"), (("times", X, times), "?x * (?x * ?y)"), (("times", number(-1), number(-2)), "-1 * -2"),
-            (("minus", number(-1), number(-1)), "-1 - -1"), (("plus", X, number(-3)), "?x + -3"), (("minus", number(0), X), "0 - ?x"),
+            (("plus", X, plus), "?x + (?x + ?y)"), (("minus", minus, X), "?x - ?y - ?x"),
+            (("minus", X, minus), "?x - (?x - ?y)"),
+            (("minus", X, plus), "?x - (?x + ?y)"), (("plus", minus, X), "?x - ?y + ?x"),
+            (("plus", times, times), "?x * ?y + ?x * ?y"),
+            (("minus", X, times), "?x - ?x * ?y"), (("times", plus, X), "(?x + ?y) * ?x"),
+            (("times", X, minus), "?x * (?x - ?y)"),
+            (("times", times, X), "?x * ?y * ?x"), (("times", X, times), "?x * (?x * ?y)"),
+            (("times", number(-1), number(-2)), "-1 * -2"),
+            (("minus", number(-1), number(-1)), "-1 - -1"), (("plus", X, number(-3)), "?x + -3"),
+            (("minus", number(0), X), "0 - ?x"),
             (("times", ("plus", times, X), ("times", X, minus)), "(?x * ?y + ?x) * (?x * (?x - ?y))"),
         ):
             self.assertEqual(body_text(("less", expression, number(1))), text + " < 1")
@@ -114,7 +123,8 @@ class LiteralTest(Checks):
         for seed in range(400):
             chance = random.Random(seed)
             left, right = drawn_expression(chance), drawn_expression(chance)
-            program = with_body(("atmost", left, right), ("count", "more", left, ("?a",), (("atom", "p", ("?a",)), ("equal", right, left))))
+            program = with_body(("atmost", left, right), ("count", "more", left, ("?a",),
+                (("atom", "p", ("?a",)), ("equal", right, left))))
             text = rule_text(program, 0)
             self.assertIn(f"{slow_expression(left)} <= {slow_expression(right)}, count", text)
             self.assertIn(f"{slow_expression(right)} = {slow_expression(left)}}} > {slow_expression(left)}.", text)
@@ -136,7 +146,7 @@ class RoundTest(Checks):
             for index, rule in enumerate(program.rules):
                 self.assertEqual(read_rule(rule_text(program, index)), rule)
                 self.assertIn(f"\nrule {rule_text(program, index)}\n", text)
-            for atom in program.facts + tuple(atoms_of(program)[:5]):
+            for atom in program.facts + tuple(ground_atoms(program)[:5]):
                 self.assertEqual(read_atom(program, atom_text(program, atom)), atom)
             parts = (program.kinds, program.relations, program.rules, program.facts)
             self.assertEqual(texts.setdefault(text, parts), parts)
@@ -168,7 +178,8 @@ class RoundTest(Checks):
             chance.shuffle(rules)
             chance.shuffle(facts)
             try:
-                other = Program(kinds=program.kinds, relations=program.relations, rules=tuple(rules), facts=tuple(facts))
+                other = Program(kinds=program.kinds, relations=program.relations, rules=tuple(rules),
+                    facts=tuple(facts))
             except BadProgram:
                 continue
             self.assertEqual(program_text(other) == program_text(program), same_program(other, program))
