@@ -30,7 +30,7 @@ def found_integer(tokens):
     """Return the integer that comes next, or None."""
     if tokens.takes("-"):
         return -int(tokens.need_sort("number"))
-    digits = tokens.found("number")
+    digits = tokens.taken("number")
     return None if digits is None else int(digits)
 
 
@@ -46,7 +46,7 @@ def read_variable(tokens):
 
 def read_value(tokens):
     """Read a value."""
-    name = tokens.found("name")
+    name = tokens.taken("name")
     if name is not None:
         return name
     number = found_integer(tokens)
@@ -57,7 +57,7 @@ def read_value(tokens):
 
 def read_term(tokens):
     """Read a term."""
-    variable = tokens.found("variable")
+    variable = tokens.taken("variable")
     return read_value(tokens) if variable is None else variable
 
 
@@ -79,7 +79,7 @@ def read_sign(tokens):
 
 def simple_factor(tokens):
     """Return the variable or the integer that comes next as an expression, or None."""
-    variable = tokens.found("variable")
+    variable = tokens.taken("variable")
     if variable is not None:
         return ("var", variable)
     number = found_integer(tokens)
@@ -138,7 +138,7 @@ def literal_behind_name(tokens, name):
 
 def read_inner(tokens):
     """Read an inner literal."""
-    name = tokens.found("name")
+    name = tokens.taken("name")
     if name is not None:
         return literal_behind_name(tokens, name)
     factor = simple_factor(tokens)

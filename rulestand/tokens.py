@@ -49,7 +49,7 @@ class Tokens:
         self._wanted[characters] = True
         return False
 
-    def found(self, sort):
+    def taken(self, sort):
         """Return the characters of the next token, and take it, if it is of this sort; otherwise return None."""
         kind, characters = self._tokens[self._at][:2]
         if kind == sort:
@@ -65,7 +65,7 @@ class Tokens:
 
     def need_sort(self, sort):
         """Take a name, a variable or a number, and return its characters."""
-        characters = self.found(sort)
+        characters = self.taken(sort)
         if characters is None:
             self.fail()
         return characters

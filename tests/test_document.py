@@ -181,6 +181,16 @@ class DocumentTest(Checks):
         with self.assertRaises(BadProgram):
             Program(kinds=(("n", (0, True)),))
 
+    def test_point_5_indexes_lines_and_columns(self):
+        program = read_program("relation p. relation q. rule p. rule q if p, not q.")
+        self.assertEqual((program.relation_index("p"), program.relation_index("q")), (0, 1))
+        self.assertEqual([rule_text(program, index) for index in (0, 1)], ["p.", "q if p, not q."])
+        self.assertEqual(why_not(program, ("q", ())), [(("rule", 1, ()), ((1, "open"),))])
+        self.assertEqual(scan("p\n.")[:2], [("name", "p", 1, 1), ("sign", ".", 2, 1)])
+        bench = Workbench(program_text(program))
+        bench.edit(0, 1, "relation r. relation p.")
+        self.assertEqual(bench.program.relations[0], ("r", ()))
+
     def test_point_6_after_an_error_everything_is_as_before(self):
         for seed in range(40):
             chance = random.Random(seed)

@@ -178,6 +178,31 @@ class NameTest(unittest.TestCase):
                 if isinstance(node, ast.Call) and isinstance(node.func, ast.Attribute):
                     self.assertIn(node.func.attr, METHODS | own, (path, node.lineno))
 
+    def test_methods_properties_and_attributes_have_different_names(self):
+        stored, properties = set(), set()
+        for path, tree in trees():
+            for node in ast.walk(tree):
+                if isinstance(node, ast.ClassDef):
+                    methods = [part for part in node.body if isinstance(part, ast.FunctionDef)]
+                    names = {part.attr for part in ast.walk(node)
+                             if isinstance(part, ast.Attribute) and isinstance(part.ctx, ast.Store)}
+                    self.assertEqual(names & {part.name for part in methods}, set(), (path, node.name))
+                    properties |= {part.name for part in methods if part.decorator_list}
+                    stored |= names
+        self.assertEqual(stored & properties, set())
+
+    def test_what_a_loop_goes_over_is_not_changed_in_it(self):
+        changing = ("append", "clear", "extend", "insert", "pop", "remove", "reverse", "setdefault", "update", "sort")
+        for path, tree in trees():
+            for node in ast.walk(tree):
+                if isinstance(node, ast.For):
+                    gone_over = {ast.unparse(part) for part in ast.walk(node.iter)
+                                 if isinstance(part, (ast.Name, ast.Attribute))}
+                    for part in [part for row in node.body for part in ast.walk(row)]:
+                        if isinstance(part, ast.Call) and isinstance(part.func, ast.Attribute):
+                            if part.func.attr in changing:
+                                self.assertNotIn(ast.unparse(part.func.value), gone_over, (path, part.lineno))
+
     def test_words_that_are_not_used(self):
         for path, tree in trees():
             told = docstrings(tree)
